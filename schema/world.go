@@ -8,12 +8,6 @@ import (
 	"dumbwaiter/value"
 )
 
-// A table has at most one row for each object, or for each pair. So it never has too many (item 6 of P2.14), as long as these numbers are not negative.
-const (
-	_ = uint(api.MaxRows - api.MaxObjects)
-	_ = uint(api.MaxRows - api.MaxPairs)
-)
-
 // objectName is what an object is found by: its family is the place of the root.
 type objectName struct{ family, tenant, id int }
 
@@ -54,6 +48,7 @@ func CheckWorld(m api.Model, w api.World) api.Errno {
 		return api.ErrLarge
 	}
 	s := sceneOf(m, w)
+	// A table has at most one row for each object, or for each pair, and MaxRows is not less than their limits: item 6 of P2.14 cannot be.
 	return first(s.checkObjects, s.checkPairs, s.checkOnes, s.checkEnds, s.checkUniques)
 }
 

@@ -221,8 +221,11 @@ func TestCheckWorldReferences(t *testing.T) {
 	}
 }
 
-// P2.14: the greatest numbers of objects and pairs.
+// P2.14: the greatest numbers of objects and pairs. CheckWorld relies on it that tables can have a row for each of them.
 func TestCheckWorldLarge(t *testing.T) {
+	if api.MaxRows < api.MaxObjects || api.MaxRows < api.MaxPairs {
+		t.Error("tables can be too large")
+	}
 	m := read(t, "entity a", "field x int", "one y a clear", "pairs p a", "unique x y", "entity b of a", "entity c")
 	var w api.World
 	for i := range api.MaxObjects {
