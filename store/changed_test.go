@@ -52,7 +52,9 @@ func editsOfTables() []edited {
 	return []edited{
 		{api.Change{Kind: api.ChCreate, New: bag}, []string{"table box\n", "table bag\ncolumn id int\ncolumn box int null\nkey id\nforeign bag bag box\nforeign box box box\nindex a box\nunique b box id\ntable box\n"}, func(d *api.Data) { d.Tables = slices.Insert(d.Tables, 0, api.TableRows{Table: "bag"}) }},
 		{api.Change{Kind: api.ChDrop, Table: "item"}, nil, func(d *api.Data) { d.Tables = slices.Delete(d.Tables, 1, 2) }},
-		{api.Change{Kind: api.ChRename, Table: "shelf", Name: "a"}, nil, func(d *api.Data) { d.Tables = []api.TableRows{{Table: "a", Rows: d.Tables[2].Rows}, d.Tables[0], d.Tables[1]} }},
+		{api.Change{Kind: api.ChRename, Table: "shelf", Name: "a"}, nil, func(d *api.Data) {
+			d.Tables = []api.TableRows{{Table: "a", Rows: d.Tables[2].Rows}, d.Tables[0], d.Tables[1]}
+		}},
 		{api.Change{Kind: api.ChRename, Table: "item", Name: "j"}, []string{"table item\n", "table j\n", "up item up", "up j up"}, func(d *api.Data) { d.Tables[1].Table = "j" }},
 		{api.Change{Kind: api.ChIndex, Table: "item", Index: api.Index{Name: "az", Columns: []string{"shelf", "n"}, Unique: true}}, []string{"index byname", "unique az shelf n\nindex byname"}, sameData},
 		{api.Change{Kind: api.ChIndex, Table: "item", Index: api.Index{Name: "z", Columns: []string{"name"}}}, []string{"byname name n id\n", "byname name n id\nindex z name\n"}, sameData},

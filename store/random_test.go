@@ -214,7 +214,7 @@ func (m *mix) checkLog(t *testing.T) {
 // P3.7 to P3.12: every result is that of a naive store; what was committed is serial; the log tells all of it.
 func TestTransactionsAtRandom(t *testing.T) {
 	errors := map[api.Errno]int{}
-	for seed := range 150 {
+	for seed := range 100 {
 		r := rand.New(rand.NewSource(int64(seed)))
 		s := depot(t)
 		x := stocked(t)

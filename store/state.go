@@ -37,9 +37,6 @@ func (h *shape) keys(row []api.Value) []string {
 	return l
 }
 
-// empty returns the heap of a table without rows.
-func (h *shape) empty() heap { return make(heap, h.trees()) }
-
 // heapOf returns the heap of rows.
 func (h *shape) heapOf(rows [][]api.Value) heap {
 	lists := make([][]*node, h.trees())
@@ -88,14 +85,4 @@ func (s *state) data() api.Data {
 		d.Tables = append(d.Tables, api.TableRows{Table: t.Name, Rows: cloneRows(s.rows(i))})
 	}
 	return d
-}
-
-// fresh returns the state of a right schema, which it keeps, without rows.
-func fresh(s api.Schema) *state {
-	f := newFrame(s)
-	x := &state{frame: f}
-	for i := range f.shapes {
-		x.heaps = append(x.heaps, f.shapes[i].empty())
-	}
-	return x
 }
