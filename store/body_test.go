@@ -77,6 +77,12 @@ func TestBodies(t *testing.T) {
 		{[]func(w *writer){func(w *writer) { w.number(1) }}, false},
 		{[]func(w *writer){func(w *writer) { w.number(api.MaxInt) }}, false},
 		{[]func(w *writer){func(w *writer) { w.text("") }}, false},
+		{[]func(w *writer){func(w *writer) {
+			w.number(1)
+			w.number(api.RowDelete)
+			w.text("person")
+			w.number(api.MaxInt)
+		}}, false},
 	} {
 		var w writer
 		for _, part := range x.parts {
@@ -115,5 +121,41 @@ func TestChangesInBodies(t *testing.T) {
 		if r.change(); !r.bad {
 			t.Error(n)
 		}
+	}
+}
+
+// What commits have touched is forgotten as soon as no transaction is open that began ahead of them.
+func TestHistoryForgets(t *testing.T) {
+	s := begun(api.Schema{}, "")
+	spans := func(want int) {
+		t.Helper()
+		if got := len(s.history.spans); got != want {
+			t.Error("spans", got, "want", want)
+		}
+	}
+	commit := func() { s.Begin().Commit() }
+	commit()
+	spans(1)
+	a := s.Begin()
+	commit()
+	spans(2)
+	b := s.Begin()
+	commit()
+	commit()
+	spans(4)
+	a.Rollback()
+	spans(3)
+	c := s.Begin()
+	commit()
+	b.Alter(api.Change{})
+	b.Commit()
+	spans(3)
+	s.repeat(nil)
+	s.repeat(value.Key([]api.Value{integer(1)}))
+	commit()
+	c.Commit()
+	spans(1)
+	if s.history.spans[0].open != 0 || s.Commits() != 8 {
+		t.Error(s.history, s.Commits())
 	}
 }

@@ -73,6 +73,13 @@ func TestErrorsOfBreaks(t *testing.T) {
 		ofStock("i0", api.ErrForm, func(b, i, s *api.TableRows) { i.Rows[0][0] = api.Value{N: 1} }),
 		ofStock("s0", api.ErrArg, func(b, i, s *api.TableRows) { s.Rows[0][0] = text("\n") }),
 	})
+	full := stock()
+	for i := range api.MaxRows - 3 {
+		full.Tables[shelves].Rows = append(full.Tables[shelves].Rows, row(text("x"), integer(i), null, boolean(1)))
+	}
+	if l, err := store.Breaks(depot(t), full); err != api.OK || len(l) > 0 {
+		t.Error(l, err)
+	}
 	s := depot(t)
 	s.Tables[1].Key = nil
 	if l, err := store.Breaks(s, api.Data{}); err != api.ErrForm || len(l) > 0 {

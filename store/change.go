@@ -105,7 +105,7 @@ type alteration struct {
 	table  *api.Table // nil for ChCreate
 }
 
-// apply makes the change, if the rules of its kind allow it. The schema need not be right then.
+// apply makes the change, if the rules of its kind allow it. Whether the schema is right then, and with it new names are tall, schema.CheckSchema says.
 func (a *alteration) apply() api.Errno {
 	switch a.Kind {
 	case api.ChCreate:
@@ -220,10 +220,7 @@ func (a *alteration) drop() api.Errno {
 }
 
 func (a *alteration) rename() api.Errno {
-	switch {
-	case !isTall(a.Name):
-		return api.ErrName
-	case a.tablePlace(a.Name) >= 0:
+	if a.tablePlace(a.Name) >= 0 {
 		return api.ErrTwice
 	}
 	a.table.Name = a.Name
@@ -263,7 +260,7 @@ func (a *alteration) remove() api.Errno {
 func (a *alteration) move() api.Errno {
 	c := a.column()
 	switch {
-	case c == nil || !isTall(a.Name2):
+	case c == nil:
 		return api.ErrName
 	case columnPlace(a.table, a.Name2) >= 0:
 		return api.ErrTwice
@@ -360,15 +357,4 @@ func (a *alteration) order() api.Errno {
 	}
 	a.table.Columns = l
 	return api.OK
-}
-
-// isTall reports whether a text is a tall name.
-func isTall(s string) bool {
-	for i := range len(s) {
-		letter := s[i] >= 'a' && s[i] <= 'z'
-		if !letter && (i == 0 || s[i] != '_' && (s[i] < '0' || s[i] > '9')) {
-			return false
-		}
-	}
-	return s != "" && len(s) <= api.MaxTall
 }

@@ -167,6 +167,20 @@ func TestChangesOfValues(t *testing.T) {
 	)
 }
 
+// P3.1: a name that a column or a table has already, its own one too.
+func TestNamesThatAreTaken(t *testing.T) {
+	for _, c := range []api.Change{
+		{Kind: api.ChMove, Table: "item", Name: "id", Name2: "id"}, {Kind: api.ChMove, Table: "item", Name: "spare", Name2: "spare"}, {Kind: api.ChMove, Table: "item", Name: "spare", Name2: "id"},
+		{Kind: api.ChRename, Table: "box", Name: "box"}, {Kind: api.ChRename, Table: "shelf", Name: "shelf"}, {Kind: api.ChRename, Table: "shelf", Name: "box"},
+		{Kind: api.ChAdd, Table: "box", Column: api.Column{Name: "id"}}, {Kind: api.ChCreate, New: api.Table{Name: "box"}}, {Kind: api.ChCreate, New: api.Table{Name: "shelf"}},
+		{Kind: api.ChIndex, Table: "box", Index: api.Index{Name: "bylabel"}}, {Kind: api.ChForeign, Table: "item", Foreign: api.Foreign{Name: "box"}},
+	} {
+		if err := store.CheckChange(depot(t), c); err != api.ErrTwice {
+			t.Error(c, err)
+		}
+	}
+}
+
 // P3.1: the casts that are refused beside those of the base of TestChangesOfValues.
 func TestCastsThatAreRefused(t *testing.T) {
 	s := readSchema(t, "table a", "column b bool", "column i int null default 2", "column s text default 'x'", "column d text default 'true'", "column m moment", "column k text", "key k", "table c", "column k int", "key k", "table d", "column k int", "column up int", "key k", "foreign up d up", "table e", "column k text", "column a text", "key k", "foreign a a a")

@@ -96,8 +96,7 @@ type span struct {
 // deed is what a commit has done.
 type deed struct {
 	altered bool  // it changed the structure
-	changed bool  // it changed a row
-	touched marks // if it has not changed the structure
+	touched marks // if it has not
 }
 
 // newHistory returns the history without commits.

@@ -45,7 +45,6 @@ func sumOf(number int, b []byte) uint64 {
 // record is the record at the beginning of a log.
 type record struct {
 	body  []byte
-	size  int
 	whole bool // otherwise there is nothing else
 	right bool // its sum is right
 }
@@ -61,5 +60,5 @@ func readRecord(log []byte, number int) record {
 	}
 	end := lengthSize + length
 	sum := numberOf(log[end : end+sumSize])
-	return record{body: log[lengthSize:end], size: end + sumSize, whole: true, right: sum == sumOf(number, log[:end])}
+	return record{body: log[lengthSize:end], whole: true, right: sum == sumOf(number, log[:end])}
 }

@@ -225,7 +225,7 @@ func (f *frame) rowChange(x shift) api.RowChange {
 
 // deed returns what the commit of the transaction does, with what has become of rows since base.
 func (t *Txn) deed(l []shift) deed {
-	d := deed{altered: t.altered, changed: len(l) > 0, touched: marks{}}
+	d := deed{altered: t.altered, touched: marks{}}
 	for _, x := range l {
 		for _, row := range [][]api.Value{x.was, x.is} {
 			if row != nil {
@@ -249,11 +249,9 @@ func (t *Txn) Commit() api.Errno {
 	return whole.commit()
 }
 
-// hasConflict reports whether the transaction depends on what others have committed since it began.
+// hasConflict reports whether the transaction depends on what others have committed since it began. (One that has changed the structure has noted all tables, so that it depends on each row.)
 func (t *Txn) hasConflict() bool {
-	return slices.ContainsFunc(t.store.history.since(t.begun), func(x span) bool {
-		return x.altered || t.altered && x.changed || t.noted.meets(x.touched)
-	})
+	return slices.ContainsFunc(t.store.history.since(t.begun), func(x span) bool { return x.altered || t.noted.meets(x.touched) })
 }
 
 // commit commits a transaction without a conflict, which is no longer counted as open.
