@@ -137,15 +137,13 @@ func tightOf(v, def api.Value) (api.Value, api.Errno) {
 // checkRows checks, behind a change, the keys, unique values and references of the rows of a table of a frame. The keys of the tables to which they refer have not changed: a change that can change keys is refused then.
 func (s *state) checkRows(f *frame, table int, rows [][]api.Value, c api.Change) api.Errno {
 	h := &f.shapes[table]
-	seen := map[spot]bool{}
+	seen := map[claim]bool{}
 	for _, row := range rows {
-		for i, key := range h.claims(row) {
-			if at := (spot{i, key}); key != "" {
-				if seen[at] {
-					return api.ErrKey
-				}
-				seen[at] = true
+		for _, x := range h.claims(row) {
+			if seen[x] {
+				return api.ErrKey
 			}
+			seen[x] = true
 		}
 	}
 	has := func(target int, key string) bool { return s.has(s.origin(f.schema.Tables[target].Name, c), key) }
@@ -157,14 +155,18 @@ func (s *state) checkRows(f *frame, table int, rows [][]api.Value, c api.Change)
 	return api.OK
 }
 
-// claims returns what no other row of the table can have: the key, and the values of each index, empty if others can have them.
-func (h *shape) claims(row []api.Value) []string {
-	l := []string{h.keyOf(row)}
+// claim is what no two rows of a table can have: a key, or values of an index.
+type claim struct {
+	index int // -1: the key
+	bytes string
+}
+
+// claims returns what no other row of the table can have.
+func (h *shape) claims(row []api.Value) []claim {
+	l := []claim{{-1, h.keyOf(row)}}
 	for i := range h.indexes {
 		if values, unique := h.uniqueOf(row, i); unique {
-			l = append(l, values)
-		} else {
-			l = append(l, "")
+			l = append(l, claim{i, values})
 		}
 	}
 	return l
