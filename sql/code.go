@@ -1,0 +1,237 @@
+package sql
+
+import (
+	"slices"
+
+	"dumbwaiter/api"
+	"dumbwaiter/same"
+	"dumbwaiter/value"
+)
+
+// code gives the value of an expression for a frame.
+type code func(f *frame) api.Value
+
+// frame is what an expression sees when it is evaluated.
+type frame struct {
+	rows  [][]api.Value // one of each source of its select
+	found []api.Value   // for the group, or for windows
+	outer *frame        // of the select around
+}
+
+// up returns the frame of the select some levels further out.
+func (f *frame) up(levels int) *frame {
+	for range levels {
+		f = f.outer
+	}
+	return f
+}
+
+// values returns the values of some code for a frame.
+func (f *frame) values(l []code) []api.Value {
+	return mapped(l, func(c code) api.Value { return c(f) })
+}
+
+// all reports whether some code is true for a frame.
+func (f *frame) all(l []code) bool {
+	return !slices.ContainsFunc(l, func(c code) bool { return !isTrue(c(f)) })
+}
+
+// layer is what code can name: what a frame has, and those around it.
+type layer struct {
+	sources []named
+	outer   *layer
+	open    bool // something further out was named: what is found depends on the frames around
+
+	// What follows is only used for expressions of groups, and of windows.
+	rows       *layer     // for the rows of a group
+	group      []api.Expr // whose values a group has
+	aggregates []aggregate
+	windows    []window
+}
+
+// mark says that something some levels further out was named.
+func (l *layer) mark(levels int) {
+	for range levels {
+		l.open = true
+		l = l.outer
+	}
+}
+
+// engine makes code of the expressions and selects of a statement that Check accepts.
+type engine struct {
+	tables map[string]*api.Table
+	rows   func(table string) [][]api.Value
+	params []api.Value
+}
+
+// codes returns the code of expressions.
+func (g *engine) codes(l []api.Expr, y *layer) []code {
+	return mapped(l, func(e api.Expr) code { return g.code(e, y) })
+}
+
+// code returns the code of an expression.
+func (g *engine) code(e api.Expr, l *layer) code {
+	if c := l.ofGroup(e); c != nil {
+		return c
+	}
+	switch {
+	case e.Kind == api.XValue || e.Kind == api.XParam:
+		return constant(g.known(e))
+	case e.Kind == api.XColumn:
+		return l.column(e)
+	case e.Kind == api.XExists:
+		return g.exists(e, l)
+	case e.Kind == api.XScalar:
+		return g.scalar(e, l)
+	case e.Kind == api.XIn && len(e.Sub) > 0:
+		return g.isFound(e, l)
+	case e.Kind == api.XIn:
+		return g.isAmong(e, l)
+	case e.Kind == api.XAgg:
+		return g.aggregate(e, l)
+	case e.Kind == api.XWindow:
+		return g.window(e, l)
+	}
+	args := g.codes(e.Args, l)
+	if e.Kind == api.XCase {
+		return choice(args)
+	}
+	return operation(e, args)
+}
+
+// constant returns the code of a value.
+func constant(v api.Value) code { return func(*frame) api.Value { return v } }
+
+// found returns the code of what was found for the group, or the windows, some levels further out.
+func found(levels, i int) code {
+	return func(f *frame) api.Value { return f.up(levels).found[i] }
+}
+
+// ofGroup returns the code of an expression that is equal to one by which a select around it is grouped, nil if there is none.
+func (l *layer) ofGroup(e api.Expr) code {
+	levels := 0
+	for x := l; x != nil; x = x.outer {
+		if i := slices.IndexFunc(x.group, func(y api.Expr) bool { return same.Expr(e, y) }); i >= 0 {
+			l.mark(levels)
+			return found(levels, i)
+		}
+		levels++
+	}
+	return nil
+}
+
+// column returns the code of an XColumn.
+func (l *layer) column(e api.Expr) code {
+	levels, x := 0, l
+	source := sourcePlace(x.sources, e.Source)
+	for source < 0 {
+		levels, x = levels+1, x.outer
+		source = sourcePlace(x.sources, e.Source)
+	}
+	l.mark(levels)
+	place := columnPlace(x.sources[source].columns, e.Name)
+	if levels == 0 {
+		return func(f *frame) api.Value { return f.rows[source][place] }
+	}
+	return func(f *frame) api.Value { return f.up(levels).rows[source][place] }
+}
+
+// kept returns code that keeps its first value, if the block that it executes is not open.
+func (b *block) kept(c code) code {
+	if b.open {
+		return c
+	}
+	known := false
+	var v api.Value
+	return func(f *frame) api.Value {
+		if !known {
+			v, known = c(f), true
+		}
+		return v
+	}
+}
+
+// exists returns the code of an XExists.
+func (g *engine) exists(e api.Expr, l *layer) code {
+	b := g.block(e.Sub[0], l, nil)
+	return b.kept(func(f *frame) api.Value { return value.Bool(b.hasRow(f)) })
+}
+
+// scalar returns the code of an XScalar.
+func (g *engine) scalar(e api.Expr, l *layer) code {
+	b := g.block(e.Sub[0], l, nil)
+	return b.kept(func(f *frame) api.Value {
+		if rows := b.answer(f); len(rows) == 1 {
+			return rows[0][0]
+		}
+		return api.Value{}
+	})
+}
+
+// isFound returns the code of an XIn with Sub.
+func (g *engine) isFound(e api.Expr, l *layer) code {
+	arg := g.code(e.Args[0], l)
+	b := g.block(e.Sub[0], l, nil)
+	values := func(f *frame) []api.Value {
+		return mapped(b.answer(f), func(row []api.Value) api.Value { return row[0] })
+	}
+	if b.open {
+		return func(f *frame) api.Value { return value.In(arg(f), values(f)) }
+	}
+	var s *set
+	return func(f *frame) api.Value {
+		if s == nil {
+			s = setOf(values(f))
+		}
+		return s.in(arg(f))
+	}
+}
+
+// isAmong returns the code of an XIn without Sub.
+func (g *engine) isAmong(e api.Expr, l *layer) code {
+	arg, others := g.code(e.Args[0], l), e.Args[1:]
+	if slices.ContainsFunc(others, func(x api.Expr) bool { return x.Kind != api.XValue && x.Kind != api.XParam }) {
+		list := g.codes(others, l)
+		return func(f *frame) api.Value { return value.In(arg(f), f.values(list)) }
+	}
+	s := setOf(mapped(others, g.known))
+	return func(f *frame) api.Value { return s.in(arg(f)) }
+}
+
+// known returns the value of an XValue or XParam.
+func (g *engine) known(e api.Expr) api.Value {
+	if e.Kind == api.XParam {
+		return g.params[e.N]
+	}
+	return e.Value
+}
+
+// set is what value.In asks of a list of values that are null or of one kind.
+type set struct {
+	has     map[api.Value]bool
+	isEmpty bool
+}
+
+func setOf(l []api.Value) *set {
+	s := &set{map[api.Value]bool{}, len(l) == 0}
+	for _, v := range l {
+		s.has[v] = true
+	}
+	return s
+}
+
+// in returns value.In of a value that is null or of the kind of the others.
+func (s *set) in(v api.Value) api.Value {
+	null := api.Value{}
+	switch {
+	case s.isEmpty:
+		return value.Bool(false)
+	case v == null:
+		return null
+	case s.has[v]:
+		return value.Bool(true)
+	case s.has[null]:
+		return null
+	}
+	return value.Bool(false)
+}
