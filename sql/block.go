@@ -49,7 +49,7 @@ func (g *engine) addSources(b *block, l *layer, given map[string][][]api.Value) 
 	for _, x := range b.query.Joins {
 		s := g.addSource(b, l, x.Source, given)
 		s.left = x.Left
-		for _, e := range conjuncts(nil, x.On) {
+		for _, e := range l.conjuncts(x.On) {
 			if !g.addLookup(b, l, s, e) {
 				s.on = append(s.on, g.code(e, l))
 			}
@@ -82,7 +82,7 @@ func (g *engine) addSource(b *block, l *layer, x api.Source, given map[string][]
 func (g *engine) addFilters(b *block, l *layer) {
 	b.filters = make([][]code, len(b.supplies)+1)
 	for _, where := range b.query.Where {
-		for _, e := range conjuncts(nil, where) {
+		for _, e := range l.conjuncts(where) {
 			need := l.need(e)
 			if need == 0 || b.supplies[need-1].left || !g.addLookup(b, l, b.supplies[need-1], e) {
 				b.filters[need] = append(b.filters[need], g.code(e, l))

@@ -71,8 +71,9 @@ func (g *engine) codes(l []api.Expr, y *layer) []code {
 
 // code returns the code of an expression.
 func (g *engine) code(e api.Expr, l *layer) code {
-	if c := l.ofGroup(e); c != nil {
-		return c
+	if levels, place := l.groupPlace(e); place >= 0 {
+		l.mark(levels)
+		return found(levels, place)
 	}
 	switch {
 	case e.Kind == api.XValue || e.Kind == api.XParam:
@@ -107,17 +108,23 @@ func found(levels, i int) code {
 	return func(f *frame) api.Value { return f.up(levels).found[i] }
 }
 
-// ofGroup returns the code of an expression that is equal to one by which a select around it is grouped, nil if there is none.
-func (l *layer) ofGroup(e api.Expr) code {
-	levels := 0
+// groupPlace returns how many levels further out a select is grouped by an expression, and the place of the expression in Group there, -1 if there is none.
+func (l *layer) groupPlace(e api.Expr) (levels, place int) {
 	for x := l; x != nil; x = x.outer {
 		if i := slices.IndexFunc(x.group, func(y api.Expr) bool { return same.Expr(e, y) }); i >= 0 {
-			l.mark(levels)
-			return found(levels, i)
+			return levels, i
 		}
 		levels++
 	}
-	return nil
+	return 0, -1
+}
+
+// conjuncts returns the conjuncts of an expression. One by which a select around is grouped is not taken apart: its parts have no value of their own.
+func (l *layer) conjuncts(e api.Expr) []api.Expr {
+	if _, place := l.groupPlace(e); place >= 0 || !isAnd(e) {
+		return []api.Expr{e}
+	}
+	return append(l.conjuncts(e.Args[0]), l.conjuncts(e.Args[1])...)
 }
 
 // column returns the code of an XColumn.

@@ -151,13 +151,13 @@ func hasAggregate(p part) bool {
 	return found
 }
 
-// conjuncts appends those of an expression to a list.
-func conjuncts(l []api.Expr, e api.Expr) []api.Expr {
-	if e.Kind != api.XOp || e.Op != api.OpAnd {
-		return append(l, e)
+// conjuncts returns the conjuncts of a condition.
+func conjuncts(e api.Expr) []api.Expr {
+	if !isAnd(e) {
+		return []api.Expr{e}
 	}
-	for _, arg := range e.Args {
-		l = conjuncts(l, arg)
-	}
-	return l
+	return append(conjuncts(e.Args[0]), conjuncts(e.Args[1])...)
 }
+
+// isAnd reports whether an expression is an OpAnd.
+func isAnd(e api.Expr) bool { return e.Kind == api.XOp && e.Op == api.OpAnd }

@@ -115,7 +115,7 @@ func boundsOf(source string, where []api.Expr) map[string]api.Expr {
 		}
 	}
 	for _, x := range where {
-		for _, e := range conjuncts(nil, x) {
+		for _, e := range conjuncts(x) {
 			if e.Kind == api.XOp && e.Op == api.OpEqual {
 				bind(e.Args[0], e.Args[1])
 				bind(e.Args[1], e.Args[0])

@@ -1,0 +1,54 @@
+package sql_test
+
+import (
+	"testing"
+
+	"dumbwaiter/api"
+	"dumbwaiter/sql"
+)
+
+// P4.4 to P4.7: Check accepts statements that are made by its rules, and their rows and effects are those of the naive way.
+func TestStatementsAtRandom(t *testing.T) {
+	s := shop(t)
+	counts := map[api.Errno]int{}
+	full := 0
+	for seed := range 6000 {
+		st, d, params := made(s, seed)
+		if err := sql.Check(s, st); err != api.OK {
+			t.Fatal(seed, err, show(t, st))
+		}
+		n := naive{s, d, params}
+		if st.Kind == api.StSelect {
+			got, err := sql.Answer(s, d, st, params)
+			want := n.query(st.Select[0], nil)
+			if err != api.OK || !same(got, want) {
+				t.Fatal(seed, err, got, want, show(t, st))
+			}
+			if len(got) > 0 {
+				full++
+			}
+			continue
+		}
+		a := filled(t, d).Begin()
+		changes := n.changes(st)
+		want := a.Batch(changes)
+		got, count, err := sql.Effect(s, d, st, params)
+		if err != want || err == api.OK && count != len(changes) {
+			t.Fatal(seed, err, want, show(t, st))
+		}
+		if after, _ := a.Data(); err == api.OK && !same(got, after) {
+			t.Fatal(seed, got, after, show(t, st))
+		}
+		counts[err]++
+	}
+	t.Log(full, counts)
+	if full < 900 || counts[api.OK] < 1000 || counts[api.ErrNull] < 100 || counts[api.ErrKey] < 100 || counts[api.ErrRef] < 100 {
+		t.Error(full, counts)
+	}
+}
+
+// show is the text of a statement, for messages.
+func show(t *testing.T, st api.Statement) string {
+	text, _ := sql.Print(shop(t), st, api.DialectPlain)
+	return text
+}
