@@ -101,7 +101,7 @@ func (c checker) change(st api.Statement) api.Errno {
 	if len(st.Where) > 1 {
 		return api.ErrForm
 	}
-	return c.conditions(st.Where, at)
+	return conditions(st.Where, c.kindAt(at))
 }
 
 // insert checks an insert into a table.
@@ -178,10 +178,10 @@ func (c checker) fitting(l []api.Expr, kinds []int, at spot) api.Errno {
 	return api.OK
 }
 
-// conditions checks expressions at a spot whose kinds fit Bool.
-func (c checker) conditions(l []api.Expr, at spot) api.Errno {
+// conditions checks expressions whose kinds, which a function tells, fit Bool.
+func conditions(l []api.Expr, kindOf func(e api.Expr) (int, api.Errno)) api.Errno {
 	for _, e := range l {
-		kind, err := c.kindOf(e, at)
+		kind, err := kindOf(e)
 		switch {
 		case err != api.OK:
 			return err

@@ -13,6 +13,11 @@ type spot struct {
 	windows    bool
 }
 
+// kindAt returns a function for the kinds of expressions at a spot.
+func (c checker) kindAt(at spot) func(e api.Expr) (int, api.Errno) {
+	return func(e api.Expr) (int, api.Errno) { return c.kindOf(e, at) }
+}
+
 // kindsOf returns the kinds of expressions.
 func (c checker) kindsOf(l []api.Expr, at spot) ([]int, api.Errno) {
 	kinds := make([]int, len(l))

@@ -42,7 +42,7 @@ func (x *selectCheck) sources() api.Errno {
 		if err := x.source(y.Source); err != api.OK {
 			return err
 		}
-		if err := x.conditions([]api.Expr{y.On}, spot{scope: x.scope}); err != api.OK {
+		if err := conditions([]api.Expr{y.On}, x.kindAt(spot{scope: x.scope})); err != api.OK {
 			return err
 		}
 	}
@@ -82,7 +82,7 @@ func (c checker) columns(y api.Source, outer *scope) ([]api.Heading, api.Errno) 
 // rows checks what is asked of rows ahead of groups.
 func (x *selectCheck) rows() api.Errno {
 	at := spot{scope: x.scope}
-	if err := x.conditions(x.q.Where, at); err != api.OK {
+	if err := conditions(x.q.Where, x.kindAt(at)); err != api.OK {
 		return err
 	}
 	_, err := x.kindsOf(x.q.Group, at)
@@ -116,16 +116,7 @@ func (x *selectCheck) isLoose(p part, nested bool) bool {
 
 // having checks Having.
 func (x *selectCheck) having() api.Errno {
-	for _, e := range x.q.Having {
-		kind, err := x.result(e, false)
-		switch {
-		case err != api.OK:
-			return err
-		case !fits(kind, api.Bool):
-			return api.ErrType
-		}
-	}
-	return api.OK
+	return conditions(x.q.Having, func(e api.Expr) (int, api.Errno) { return x.result(e, false) })
 }
 
 // items checks Items.

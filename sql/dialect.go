@@ -102,7 +102,7 @@ func formsOf(op int, pattern string) []form {
 	return l
 }
 
-// countWord returns the word of an XAgg or XWindow, empty for AggRows, whose form has no Arg.
+// countWord returns the word of an XAgg or XWindow, but AggRows, whose form has no Arg.
 func countWord(op int) string {
 	switch op {
 	case api.AggCount, api.WinCount:
@@ -115,10 +115,8 @@ func countWord(op int) string {
 		return "max"
 	case api.WinRow:
 		return "row_number"
-	case api.WinRank:
-		return "rank"
 	}
-	return ""
+	return "rank"
 }
 
 // unfinished is the panic of what cannot be written or read to its end.

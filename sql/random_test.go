@@ -27,6 +27,7 @@ func TestStatementsAtRandom(t *testing.T) {
 			if len(got) > 0 {
 				full++
 			}
+			checkBound(t, st, d, params)
 			continue
 		}
 		a := filled(t, d).Begin()
@@ -44,6 +45,20 @@ func TestStatementsAtRandom(t *testing.T) {
 	t.Log(full, counts)
 	if full < 900 || counts[api.OK] < 1000 || counts[api.ErrNull] < 100 || counts[api.ErrKey] < 100 || counts[api.ErrRef] < 100 {
 		t.Error(full, counts)
+	}
+}
+
+// checkBound checks that a statement with values in the place of parameters has the same rows (P4.8).
+func checkBound(t *testing.T, st api.Statement, d api.Data, params []api.Value) {
+	t.Helper()
+	s := shop(t)
+	bound, err := sql.Bind(s, st, params)
+	if err != api.OK || len(bound.Params) > 0 || sql.Check(s, bound) != api.OK {
+		t.Fatal(err, show(t, st))
+	}
+	got, err := sql.Answer(s, d, bound, nil)
+	if want, _ := sql.Answer(s, d, st, params); err != api.OK || !same(got, want) {
+		t.Fatal(err, got, want, show(t, st))
 	}
 }
 
