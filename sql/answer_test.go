@@ -1,6 +1,7 @@
 package sql_test
 
 import (
+	"strconv"
 	"testing"
 
 	"dumbwaiter/api"
@@ -232,6 +233,47 @@ func TestSubs(t *testing.T) {
 			t.Error(i, l)
 		}
 	}
+}
+
+// P4.6: rows that belong together are looked up; to try all pairs, or triples, would take hours.
+func TestManyRows(t *testing.T) {
+	d := stock()
+	d.Tables[links].Rows, d.Tables[persons].Rows, d.Tables[pets].Rows = nil, nil, nil
+	const count = 5000
+	for i := range count {
+		d.Tables[persons].Rows = append(d.Tables[persons].Rows, row(integer(i), text("n"+strconv.Itoa(i)), integer(i%50), null, null))
+		d.Tables[pets].Rows = append(d.Tables[pets].Rows, row(integer(i), integer(i*7%count), text("cat"), integer(count-1-i)))
+	}
+	equal := func(a, b, c, d string) api.Expr { return op(api.OpEqual, col(a, b), col(c, d)) }
+	rows := zoo(agg(api.AggRows))
+	lonely := exists(with(ids("person", "p"), func(q *api.Select) {
+		q.Where = exprs(op(api.OpAnd, equal("q", "owner", "p", "id"), exists(with(ids("pet", "r"), func(q *api.Select) { q.Where = exprs(equal("r", "n", "p", "id")) }))))
+	}))
+	chain := []api.Join{join(table("person", "p"), equal("q", "owner", "p", "id")), leftJoin(table("pet", "r"), equal("r", "n", "p", "id")), join(sub(zoo(col("q", "id")), "s"), lit(boolean(1)))}
+	for i, q := range []api.Select{
+		with(rows, func(q *api.Select) { q.Joins = chain; q.Where = exprs(equal("s", "a", "r", "id")) }),
+		with(rows, func(q *api.Select) {
+			q.Where = exprs(op(api.OpAnd, lonely, inSub(col("q", "id"), with(ids("pet", "z"), func(q *api.Select) { q.Items[0].Expr = col("z", "n") }))))
+		}),
+		with(rows, func(q *api.Select) { q.Where = exprs(in(append(exprs(col("q", "n")), numbers(count)...)...)) }),
+		with(rows, func(q *api.Select) {
+			q.Joins = []api.Join{join(table("person", "p"), lit(boolean(1))), join(table("pet", "r"), lit(boolean(1)))}
+			q.Where = exprs(and(op(api.OpEqual, op(api.OpAdd, col("p", "id"), num(0)), col("q", "n")), op(api.OpEqual, col("q", "id"), op(api.OpSub, num(count-1), col("r", "n")))))
+		}),
+	} {
+		if got, err := sql.Answer(shop(t), d, query(q), nil); err != api.OK || !same(got, [][]api.Value{row(integer(count))}) {
+			t.Error(i, got, err)
+		}
+	}
+}
+
+// numbers are so many numbers as expressions.
+func numbers(n int) []api.Expr {
+	var l []api.Expr
+	for i := range n {
+		l = append(l, num(i))
+	}
+	return l
 }
 
 // call is the arguments of Answer, Effect and Bind.

@@ -42,29 +42,28 @@ func (g *engine) addLookup(b *block, l *layer, s *supply, e api.Expr) bool {
 // need returns how many sources of a layer must be there for an expression.
 func (l *layer) need(e api.Expr) int {
 	need := 0
-	part{expr: &e}.walk(func(p part) bool {
-		if p.expr != nil && p.expr.Kind == api.XColumn {
-			need = max(need, sourcePlace(l.sources, p.expr.Source)+1)
-		}
-		return true
-	})
+	for _, place := range l.placesIn(e) {
+		need = max(need, place+1)
+	}
 	return need
 }
 
-// isOnly reports whether an expression without selects has columns, all of a source of a layer.
+// isOnly reports whether an expression has columns, all of a source of a layer.
 func (l *layer) isOnly(e api.Expr, source int) bool {
-	has, only := false, true
+	places := l.placesIn(e)
+	return len(places) > 0 && !slices.ContainsFunc(places, func(place int) bool { return place != source })
+}
+
+// placesIn returns the place of the source of each column in an expression, -1 for sources of other selects.
+func (l *layer) placesIn(e api.Expr) []int {
+	var places []int
 	part{expr: &e}.walk(func(p part) bool {
-		switch {
-		case p.query != nil:
-			only = false
-		case p.expr != nil && p.expr.Kind == api.XColumn:
-			has = true
-			only = only && sourcePlace(l.sources, p.expr.Source) == source
+		if p.expr != nil && p.expr.Kind == api.XColumn {
+			places = append(places, sourcePlace(l.sources, p.expr.Source))
 		}
 		return true
 	})
-	return has && only
+	return places
 }
 
 // load sees to it that the rows of a source are there. A select is executed again only if it depends on the frames around.

@@ -70,8 +70,7 @@ func (w window) fill(l []member, results []api.Value) {
 		return slices.CompareFunc(a.row, b.row, value.CompareLists)
 	})
 	t := newTally(false)
-	end := 0 // of the members that agree in all keys
-	start := 0
+	start, end := 0, 0 // of the members that agree in all keys
 	for i, m := range l {
 		if i == end {
 			start = end
