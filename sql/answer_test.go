@@ -235,7 +235,7 @@ func TestSubs(t *testing.T) {
 	}
 }
 
-// P4.6: rows that belong together are looked up; to try all pairs, or triples, would take hours.
+// P4.6: rows that belong together among many. (They are looked up; to try all pairs takes a hundred times as long.)
 func TestManyRows(t *testing.T) {
 	d := stock()
 	d.Tables[links].Rows, d.Tables[persons].Rows, d.Tables[pets].Rows = nil, nil, nil

@@ -189,6 +189,8 @@ func TestCheckNames(t *testing.T) {
 		// The select of a source does not see its neighbours, and can have their names; it sees what is around.
 		{over(sub(pet(same("p", "q")), "r"), lit(null)), api.ErrName}, {over(sub(ids("pet", "p"), "r"), same("p", "r")), api.OK}, {over(sub(pet(lit(null)), "r"), same("q", "r")), api.ErrName}, {over(sub(ids("pet", "r"), "r"), same("p", "r")), api.OK}, {over(sub(ids("pet", "r"), "r"), op(api.OpNull, col("r", "kind"))), api.ErrName},
 		{people(exists(api.Select{Items: items(item("a", num(1))), From: from(sub(pet(same("p", "q")), "r")), Limit: -1})), api.OK}, {people(exists(api.Select{Items: items(item("a", num(1))), From: from(sub(named(pet(lit(null)), "p"), "r")), Limit: -1})), api.ErrTwice}, {people(exists(api.Select{Items: items(item("a", num(1))), From: from(sub(ids("pet", "r"), "r")), Where: exprs(same("p", "r")), Limit: -1})), api.OK},
+		// A name has at most MaxTall bytes.
+		{named(ids("pet", long(api.MaxTall)), long(api.MaxTall)), api.OK}, {api.Select{Items: items(item(long(api.MaxTall), num(1))), Limit: -1}, api.OK}, {api.Select{Items: items(item(long(api.MaxTall+1), num(1))), Limit: -1}, api.ErrName}, {named(ids("pet", "a_0"), "a_0"), api.OK}, {named(ids("pet", "_a"), "_a"), api.ErrName},
 		// Columns of a select are of the kinds of its items, also of none.
 		{over(sub(people0(lit(null)), "r"), op(api.OpLike, col("r", "a"), op(api.OpAdd, col("r", "a"), num(1)))), api.OK}, {over(sub(people0(lit(text(""))), "r"), op(api.OpLess, col("r", "a"), num(1))), api.ErrType},
 	} {

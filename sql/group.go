@@ -92,7 +92,7 @@ func (t *tally) add(v api.Value) {
 	if t.count == 0 || value.Compare(v, t.least) < 0 {
 		t.least = v
 	}
-	if t.count == 0 || value.Compare(v, t.most) > 0 {
+	if value.Compare(v, t.most) > 0 { // so is every value if there is none yet
 		t.most = v
 	}
 	if v.Kind == api.Int {
