@@ -4,6 +4,7 @@ import (
 	"slices"
 
 	"dumbwaiter/api"
+	"dumbwaiter/operate"
 	"dumbwaiter/same"
 	"dumbwaiter/value"
 )
@@ -33,7 +34,7 @@ func (f *frame) values(l []code) []api.Value {
 
 // all reports whether some code is true for a frame.
 func (f *frame) all(l []code) bool {
-	return !slices.ContainsFunc(l, func(c code) bool { return !isTrue(c(f)) })
+	return !slices.ContainsFunc(l, func(c code) bool { return !operate.IsTrue(c(f)) })
 }
 
 // layer is what code can name: what a frame has, and those around it.
@@ -95,9 +96,9 @@ func (g *engine) code(e api.Expr, l *layer) code {
 	}
 	args := g.codes(e.Args, l)
 	if e.Kind == api.XCase {
-		return choice(args)
+		return operate.Choice(args)
 	}
-	return operation(e, args)
+	return operate.Operation(e, args)
 }
 
 // constant returns the code of a value.
@@ -196,11 +197,11 @@ func (g *engine) isFound(e api.Expr, l *layer) code {
 
 // isAmong returns the code of an XIn without Sub.
 func (g *engine) isAmong(e api.Expr, l *layer) code {
-	arg, others := g.code(e.Args[0], l), e.Args[1:]
+	others := e.Args[1:]
 	if slices.ContainsFunc(others, func(x api.Expr) bool { return x.Kind != api.XValue && x.Kind != api.XParam }) {
-		list := g.codes(others, l)
-		return func(f *frame) api.Value { return value.In(arg(f), f.values(list)) }
+		return operate.In(g.codes(e.Args, l))
 	}
+	arg := g.code(e.Args[0], l)
 	s := setOf(mapped(others, g.known))
 	return func(f *frame) api.Value { return s.in(arg(f)) }
 }

@@ -1,12 +1,13 @@
-package sql
+// Package operate makes functions of the parts of scalar expressions: each of them gives the value of a part for what it depends on, whatever that is, by the functions of its Args.
+package operate
 
 import (
 	"dumbwaiter/api"
 	"dumbwaiter/value"
 )
 
-// operation returns the code of an XOp.
-func operation(e api.Expr, args []code) code {
+// Operation returns the function of an XOp.
+func Operation[C ~func(F) api.Value, F any](e api.Expr, args []C) C {
 	switch e.Op {
 	case api.OpAnd:
 		return and(args[0], args[1])
@@ -15,14 +16,14 @@ func operation(e api.Expr, args []code) code {
 	case api.OpCoalesce:
 		return coalesce(args)
 	case api.OpPart:
-		return func(f *frame) api.Value { return value.Part(args[0](f), args[1](f), args[2](f)) }
+		return func(f F) api.Value { return value.Part(args[0](f), args[1](f), args[2](f)) }
 	}
 	if len(args) == 1 {
 		apply := operationsOfOne(e.N)[e.Op]
-		return func(f *frame) api.Value { return apply(args[0](f)) }
+		return func(f F) api.Value { return apply(args[0](f)) }
 	}
 	apply := operationsOfTwo()[e.Op]
-	return func(f *frame) api.Value { return apply(args[0](f), args[1](f)) }
+	return func(f F) api.Value { return apply(args[0](f), args[1](f)) }
 }
 
 // operationsOfOne returns the operations with one Arg, and the number N.
@@ -60,9 +61,9 @@ func operationsOfTwo() map[int]func(a, b api.Value) api.Value {
 	}
 }
 
-// and returns the code of OpAnd. The second Arg is not asked if the first one decides, as it can be a select.
-func and(a, b code) code {
-	return func(f *frame) api.Value {
+// and returns the function of OpAnd. The second Arg is not asked if the first one decides, as it can be a select.
+func and[C ~func(F) api.Value, F any](a, b C) C {
+	return func(f F) api.Value {
 		v := a(f)
 		if v == value.Bool(false) {
 			return v
@@ -71,20 +72,20 @@ func and(a, b code) code {
 	}
 }
 
-// or returns the code of OpOr. The second Arg is not asked if the first one decides.
-func or(a, b code) code {
-	return func(f *frame) api.Value {
+// or returns the function of OpOr. The second Arg is not asked if the first one decides.
+func or[C ~func(F) api.Value, F any](a, b C) C {
+	return func(f F) api.Value {
 		v := a(f)
-		if isTrue(v) {
+		if IsTrue(v) {
 			return v
 		}
 		return value.Or(v, b(f))
 	}
 }
 
-// coalesce returns the code of OpCoalesce.
-func coalesce(args []code) code {
-	return func(f *frame) api.Value {
+// coalesce returns the function of OpCoalesce.
+func coalesce[C ~func(F) api.Value, F any](args []C) C {
+	return func(f F) api.Value {
 		for _, c := range args {
 			if v := c(f); v.Kind != api.Null {
 				return v
@@ -94,15 +95,29 @@ func coalesce(args []code) code {
 	}
 }
 
-// choice returns the code of an XCase.
-func choice(args []code) code {
+// Choice returns the function of an XCase.
+func Choice[C ~func(F) api.Value, F any](args []C) C {
 	last := len(args) - 1
-	return func(f *frame) api.Value {
+	return func(f F) api.Value {
 		for i := 0; i < last; i += 2 {
-			if isTrue(args[i](f)) {
+			if IsTrue(args[i](f)) {
 				return args[i+1](f)
 			}
 		}
 		return args[last](f)
 	}
 }
+
+// In returns the function of an XIn without Sub.
+func In[C ~func(F) api.Value, F any](args []C) C {
+	return func(f F) api.Value {
+		values := make([]api.Value, len(args))
+		for i, c := range args {
+			values[i] = c(f)
+		}
+		return value.In(values[0], values[1:])
+	}
+}
+
+// IsTrue reports whether a value is the Bool true.
+func IsTrue(v api.Value) bool { return v == value.Bool(true) }
