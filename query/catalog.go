@@ -58,6 +58,7 @@ func (e *entity) tables() int {
 // catalog has the entities of a right model, each of them from when it was first asked for.
 type catalog struct {
 	model    api.Model
+	lines    map[string][]int // of each entity: the places of the entities from the root down to it
 	entities map[string]*entity
 }
 
@@ -66,7 +67,11 @@ func catalogOf(m api.Model) (*catalog, api.Errno) {
 	if err := schema.Check(m); err != api.OK {
 		return nil, err
 	}
-	return &catalog{m, map[string]*entity{}}, api.OK
+	c := &catalog{m, map[string][]int{}, map[string]*entity{}}
+	for i, e := range m.Entities {
+		c.lines[e.Name] = append(slices.Clone(c.lines[e.Parent]), i)
+	}
+	return c, api.OK
 }
 
 // lookup returns the catalog of a model and an entity of it.
@@ -87,38 +92,27 @@ func (c *catalog) entity(name string) *entity {
 	if e, ok := c.entities[name]; ok {
 		return e
 	}
-	line := c.line(name)
-	if len(line) == 0 {
+	line, ok := c.lines[name]
+	if !ok {
 		return nil
 	}
-	e := &entity{name: name, root: line[0], line: mapped(line, nameOf), members: map[string]member{}}
+	e := &entity{name: name, root: c.model.Entities[line[0]], members: map[string]member{}}
 	for _, other := range c.model.Entities {
-		if slices.ContainsFunc(c.line(other.Name), func(x api.Entity) bool { return x.Name == name }) {
+		if slices.Contains(c.lines[other.Name], line[len(line)-1]) {
 			e.family = append(e.family, other.Name)
 		}
 	}
 	e.slots, _ = schema.Slots(c.model, name)
 	e.addHeads()
 	e.addSlots()
-	for _, x := range line {
+	for _, place := range line {
+		x := c.model.Entities[place]
+		e.line = append(e.line, x.Name)
 		e.addFormulas(x)
 		e.addRelations(x)
 	}
 	c.entities[name] = e
 	return e
-}
-
-// nameOf returns the name of an entity of a model.
-func nameOf(e api.Entity) string { return e.Name }
-
-// line returns the entities from the root down to one, none if there is no such entity.
-func (c *catalog) line(name string) []api.Entity {
-	i := slices.IndexFunc(c.model.Entities, func(e api.Entity) bool { return e.Name == name })
-	if i < 0 {
-		return nil
-	}
-	e := c.model.Entities[i]
-	return append(c.line(e.Parent), e)
 }
 
 // addHeads adds what objects have beside fields and relations.

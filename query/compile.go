@@ -261,8 +261,7 @@ func (t *thing) formula(x member) api.Expr {
 		if e.Kind == api.XColumn {
 			return t.column(t.entity.members[e.Name].slot, false)
 		}
-		e.Args = mapped(e.Args, made)
-		return e
+		return rebuilt(e, made)
 	}
 	e := made(x.formula)
 	if t.optional {

@@ -19,8 +19,7 @@ func (b *block) condition(e api.Expr) api.Expr {
 	case api.XIs:
 		return b.is(b.entity(e.Name), b.routeOf(e, at))
 	}
-	e.Args = mapped(e.Args, b.condition)
-	return e
+	return rebuilt(e, b.condition)
 }
 
 // spot returns the spot at which conditions of the block stand.

@@ -85,7 +85,7 @@ func (c checker) kindOf(e api.Expr, at *spot) (int, api.Errno) {
 	case api.XSome, api.XEvery, api.XMany:
 		return c.kindOfMany(e, at)
 	case api.XIs:
-		return api.Bool, c.checkIs(e, at)
+		return c.kindOfIs(e, at)
 	}
 	var kinds []int
 	for _, arg := range e.Args {
@@ -160,20 +160,20 @@ func (c checker) kindOfMany(e api.Expr, at *spot) (int, api.Errno) {
 	return api.Bool, api.OK
 }
 
-// checkIs checks an XIs.
-func (c checker) checkIs(e api.Expr, at *spot) api.Errno {
+// kindOfIs returns the kind of an XIs.
+func (c checker) kindOfIs(e api.Expr, at *spot) (int, api.Errno) {
 	if !isFormed(e) {
-		return api.ErrForm
+		return 0, api.ErrForm
 	}
 	if e.Source != "" {
 		if _, err := c.toOne(at.entity, e.Source); err != api.OK {
-			return err
+			return 0, err
 		}
 	}
 	if c.entity(e.Name) == nil {
-		return api.ErrName
+		return 0, api.ErrName
 	}
-	return api.OK
+	return api.Bool, api.OK
 }
 
 // isFormed reports whether an XSome, XEvery, XMany or XIs has as many Args as it must, and fields that it does not use are zero.

@@ -111,29 +111,45 @@ func (j judge) multi(e api.Expr, at *spot) rule {
 	r := j.routeOf(e, at)
 	inner := &spot{j.entity(r.end.slot.To), at}
 	conditions := mapped(e.Args, func(arg api.Expr) rule { return j.rule(arg, inner) })
-	holds := func(place int, f *frame) bool {
-		return !slices.ContainsFunc(conditions, func(c rule) bool { return !operate.IsTrue(c(&frame{place, f})) })
-	}
-	objects := func(f *frame) []int {
-		if place := j.followAll(f.place, r.ones); place >= 0 {
-			return j.many(place, r.end)
+	verdict := verdictOf(e.Kind)
+	// What its condition calls up is this object, so that the value depends on the object alone.
+	known := map[int]api.Value{}
+	return func(f *frame) api.Value {
+		v, ok := known[f.place]
+		if !ok {
+			v = verdict(j.objects(f.place, r), func(place int) bool {
+				return !slices.ContainsFunc(conditions, func(c rule) bool { return !operate.IsTrue(c(&frame{place, f})) })
+			})
+			known[f.place] = v
 		}
+		return v
+	}
+}
+
+// objects returns the places of the objects of a path to many.
+func (s *scene) objects(place int, r route) []int {
+	if place = s.followAll(place, r.ones); place < 0 {
 		return nil
 	}
-	switch e.Kind {
+	return s.many(place, r.end)
+}
+
+// verdictOf returns what an XSome, XEvery or XMany says of objects of which some hold.
+func verdictOf(kind int) func(places []int, holds func(place int) bool) api.Value {
+	switch kind {
 	case api.XSome:
-		return func(f *frame) api.Value {
-			return value.Bool(slices.ContainsFunc(objects(f), func(place int) bool { return holds(place, f) }))
+		return func(places []int, holds func(place int) bool) api.Value {
+			return value.Bool(slices.ContainsFunc(places, holds))
 		}
 	case api.XEvery:
-		return func(f *frame) api.Value {
-			return value.Bool(!slices.ContainsFunc(objects(f), func(place int) bool { return !holds(place, f) }))
+		return func(places []int, holds func(place int) bool) api.Value {
+			return value.Bool(!slices.ContainsFunc(places, func(place int) bool { return !holds(place) }))
 		}
 	}
-	return func(f *frame) api.Value {
+	return func(places []int, holds func(place int) bool) api.Value {
 		count := 0
-		for _, place := range objects(f) {
-			if holds(place, f) {
+		for _, place := range places {
+			if holds(place) {
 				count++
 			}
 		}

@@ -295,8 +295,7 @@ func grouped(t api.Total, from api.Source) api.Select {
 		if e.Kind == api.XColumn {
 			return copied(named[e.Name])
 		}
-		e.Args = mapped(e.Args, written)
-		return e
+		return rebuilt(e, written)
 	}
 	q.Having = mapped(t.Having, written)
 	return q
