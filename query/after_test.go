@@ -101,7 +101,7 @@ func TestRandomAfter(t *testing.T) {
 			}
 		}
 	})
-	if behind < 300 {
+	if behind < 100 {
 		t.Error(behind)
 	}
 }

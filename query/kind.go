@@ -68,15 +68,19 @@ func (c checker) checkWhere(l []api.Expr, at *entity) api.Errno {
 		if err := c.checkKinds(); err != api.OK {
 			return err
 		}
-		kind, err := c.kindOfWhole(e, at)
-		switch {
-		case err != api.OK:
+		if err := asBool(c.kindOfWhole(e, at)); err != api.OK {
 			return err
-		case !fits(kind, api.Bool):
-			return api.ErrType
 		}
 	}
 	return api.OK
+}
+
+// asBool returns the error of a condition that has a kind, or an error: ErrType if the kind does not fit Bool.
+func asBool(kind int, err api.Errno) api.Errno {
+	if err == api.OK && !fits(kind, api.Bool) {
+		return api.ErrType
+	}
+	return err
 }
 
 // kindOf returns the kind of a part.
@@ -146,12 +150,8 @@ func (c checker) kindOfMany(e api.Expr, at *spot) (int, api.Errno) {
 	}
 	inner := &spot{c.entity(r.end.relation.To), at}
 	for _, arg := range e.Args {
-		kind, err := c.kindOf(arg, inner)
-		switch {
-		case err != api.OK:
+		if err := asBool(c.kindOf(arg, inner)); err != api.OK {
 			return 0, err
-		case !fits(kind, api.Bool):
-			return 0, api.ErrType
 		}
 	}
 	if e.Kind == api.XMany {

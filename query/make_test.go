@@ -35,9 +35,12 @@ func makerOf(seed int) *maker {
 	return r
 }
 
-// randomly runs a test with several makers.
+// randomly runs a test with several makers, with fewer of them if it must be short.
 func randomly(t *testing.T, times int, f func(t *testing.T, r *maker)) {
 	t.Helper()
+	if testing.Short() {
+		times /= 5
+	}
 	for seed := range times {
 		f(t, makerOf(seed))
 		if t.Failed() {

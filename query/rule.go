@@ -168,11 +168,7 @@ func (j judge) is(e api.Expr, at *spot) rule {
 
 // Holds returns the value of a condition for an object of a world.
 func Holds(m api.Model, w api.World, o api.Ref, e api.Expr, params []api.Value) (api.Value, api.Errno) {
-	s, err := sceneFor(m, w)
-	if err != api.OK {
-		return api.Value{}, err
-	}
-	place, err := s.place(o)
+	s, place, err := objectIn(m, w, o)
 	if err != api.OK {
 		return api.Value{}, err
 	}

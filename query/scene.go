@@ -53,17 +53,21 @@ func nameIn(e *entity, tenant, id int) objectName {
 	return objectName{e.root.Name, tenant, id}
 }
 
-// place returns the place of an object in the world, if it is there.
-func (s *scene) place(o api.Ref) (int, api.Errno) {
+// objectIn returns the scene of a model and a world, and the place of an object in it.
+func objectIn(m api.Model, w api.World, o api.Ref) (*scene, int, api.Errno) {
+	s, err := sceneFor(m, w)
+	if err != api.OK {
+		return nil, 0, err
+	}
 	e := s.entity(o.Entity)
 	if e == nil {
-		return 0, api.ErrNone
+		return nil, 0, api.ErrNone
 	}
 	i, ok := s.places[objectName{e.root.Name, o.Tenant, o.ID}]
-	if !ok || s.world.Objects[i].Entity != o.Entity {
-		return 0, api.ErrNone
+	if !ok || w.Objects[i].Entity != o.Entity {
+		return nil, 0, api.ErrNone
 	}
-	return i, api.OK
+	return s, i, api.OK
 }
 
 // entityAt returns the entity of the object at a place.

@@ -42,11 +42,7 @@ func seen(m api.Model, w api.World, tenant int, gone bool) api.World {
 
 // Related returns the objects of a relation that an object has.
 func Related(m api.Model, w api.World, o api.Ref, relation string) ([]api.Ref, api.Errno) {
-	s, err := sceneFor(m, w)
-	if err != api.OK {
-		return nil, err
-	}
-	place, err := s.place(o)
+	s, place, err := objectIn(m, w, o)
 	if err != api.OK {
 		return nil, err
 	}
@@ -65,11 +61,7 @@ func Related(m api.Model, w api.World, o api.Ref, relation string) ([]api.Ref, a
 
 // Look returns the value of a path for an object of a world.
 func Look(m api.Model, w api.World, o api.Ref, path string) (api.Value, api.Errno) {
-	s, err := sceneFor(m, w)
-	if err != api.OK {
-		return api.Value{}, err
-	}
-	place, err := s.place(o)
+	s, place, err := objectIn(m, w, o)
 	if err != api.OK {
 		return api.Value{}, err
 	}

@@ -113,12 +113,8 @@ func (c checker) checkHaving(t api.Total, e *entity) api.Errno {
 		// value.KindOf has no kind of parameters for null, but expressions with null.
 		isNull := func(n int) bool { return n >= 0 && n < len(c.params) && c.params[n] == api.Null }
 		kinds := mapped(c.params, func(kind int) int { return max(kind, api.Bool) })
-		kind, err := value.KindOf(withNulls(x, isNull), c.cells(t, e), kinds)
-		switch {
-		case err != api.OK:
+		if err := asBool(value.KindOf(withNulls(x, isNull), c.cells(t, e), kinds)); err != api.OK {
 			return err
-		case !fits(kind, api.Bool):
-			return api.ErrType
 		}
 	}
 	return api.OK

@@ -18,8 +18,8 @@ type block struct {
 	windows    []window
 	having     []code
 	items      []code
-	keys       []code // of the order
-	open       bool   // what it gives depends on the frames around
+	keys       []code    // of the order
+	outside    []outside // on which alone depends what it gives
 }
 
 // block returns the block of a select within a layer. given has the rows of sources of which only some are read.
@@ -37,7 +37,8 @@ func (g *engine) block(q api.Select, outer *layer, given map[string][][]api.Valu
 	b.items = mapped(q.Items, func(x api.Item) code { return g.code(x.Expr, results) })
 	b.keys = mapped(q.Order, func(o api.Order) code { return g.code(o.Expr, results) })
 	b.aggregates, b.windows = results.aggregates, results.windows
-	b.open = rows.open || results.open
+	rows.note(results.outside...)
+	b.outside = rows.outside
 	return b
 }
 
@@ -65,7 +66,7 @@ func (g *engine) addSource(b *block, l *layer, x api.Source, given map[string][]
 	switch {
 	case x.Table == "":
 		s.sub = g.block(x.Sub[0], l.outer, nil)
-		l.open = l.open || s.sub.open
+		l.note(s.sub.outside...)
 		columns = mapped(x.Sub[0].Items, func(y api.Item) api.Heading { return api.Heading{Name: y.Name} })
 	case isGiven:
 		s.rows, columns = rows, columnsOf(g.tables[x.Table])

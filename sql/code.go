@@ -41,7 +41,7 @@ func (f *frame) all(l []code) bool {
 type layer struct {
 	sources []named
 	outer   *layer
-	open    bool // something further out was named: what is found depends on the frames around
+	outside []outside // what was named further out: what is found depends on it alone
 
 	// What follows is only used for expressions of groups, and of windows.
 	rows       *layer     // for the rows of a group
@@ -50,11 +50,38 @@ type layer struct {
 	windows    []window
 }
 
-// mark says that something some levels further out was named.
-func (l *layer) mark(levels int) {
-	for range levels {
-		l.open = true
+// outside is something further out, by where it is, and the code of it for a frame of the select around.
+type outside struct {
+	where spotOutside
+	code  code
+}
+
+// spotOutside is where something is, seen from a select around: how many levels further out, and a column of a source, or, if source is -1, what was found there.
+type spotOutside struct{ levels, source, place int }
+
+// code returns the code of what is at a spot.
+func (x spotOutside) code() code {
+	if x.source < 0 {
+		return found(x.levels, x.place)
+	}
+	return func(f *frame) api.Value { return f.up(x.levels).rows[x.source][x.place] }
+}
+
+// mark notes that something at a spot was named.
+func (l *layer) mark(x spotOutside) {
+	for x.levels > 0 {
+		x.levels--
+		l.note(outside{x, x.code()})
 		l = l.outer
+	}
+}
+
+// note notes what is further out, each once.
+func (l *layer) note(more ...outside) {
+	for _, x := range more {
+		if !slices.ContainsFunc(l.outside, func(y outside) bool { return y.where == x.where }) {
+			l.outside = append(l.outside, x)
+		}
 	}
 }
 
@@ -73,8 +100,9 @@ func (g *engine) codes(l []api.Expr, y *layer) []code {
 // code returns the code of an expression.
 func (g *engine) code(e api.Expr, l *layer) code {
 	if levels, place := l.groupPlace(e); place >= 0 {
-		l.mark(levels)
-		return found(levels, place)
+		at := spotOutside{levels, -1, place}
+		l.mark(at)
+		return at.code()
 	}
 	switch {
 	case e.Kind == api.XValue || e.Kind == api.XParam:
@@ -136,24 +164,27 @@ func (l *layer) column(e api.Expr) code {
 		levels, x = levels+1, x.outer
 		source = sourcePlace(x.sources, e.Source)
 	}
-	l.mark(levels)
-	place := columnPlace(x.sources[source].columns, e.Name)
-	if levels == 0 {
-		return func(f *frame) api.Value { return f.rows[source][place] }
-	}
-	return func(f *frame) api.Value { return f.up(levels).rows[source][place] }
+	at := spotOutside{levels, source, columnPlace(x.sources[source].columns, e.Name)}
+	l.mark(at)
+	return at.code()
 }
 
-// kept returns code that keeps its first value, if the block that it executes is not open.
-func (b *block) kept(c code) code {
-	if b.open {
-		return c
-	}
-	known := false
-	var v api.Value
-	return func(f *frame) api.Value {
-		if !known {
-			v, known = c(f), true
+// mostKept is how many values are kept at once.
+const mostKept = 20000
+
+// kept returns what executes a block for a frame but once for all frames in which the same is further out.
+func kept[T any](b *block, execute func(f *frame) T) func(f *frame) T {
+	around := mapped(b.outside, func(x outside) code { return x.code })
+	known := map[string]T{}
+	return func(f *frame) T {
+		key := string(value.Key(f.values(around)))
+		v, ok := known[key]
+		if !ok {
+			v = execute(f)
+			if len(known) == mostKept {
+				known = map[string]T{}
+			}
+			known[key] = v
 		}
 		return v
 	}
@@ -162,13 +193,13 @@ func (b *block) kept(c code) code {
 // exists returns the code of an XExists.
 func (g *engine) exists(e api.Expr, l *layer) code {
 	b := g.block(e.Sub[0], l, nil)
-	return b.kept(func(f *frame) api.Value { return value.Bool(b.hasRow(f)) })
+	return kept(b, func(f *frame) api.Value { return value.Bool(b.hasRow(f)) })
 }
 
 // scalar returns the code of an XScalar.
 func (g *engine) scalar(e api.Expr, l *layer) code {
 	b := g.block(e.Sub[0], l, nil)
-	return b.kept(func(f *frame) api.Value {
+	return kept(b, func(f *frame) api.Value {
 		if rows := b.answer(f); len(rows) == 1 {
 			return rows[0][0]
 		}
@@ -180,19 +211,10 @@ func (g *engine) scalar(e api.Expr, l *layer) code {
 func (g *engine) isFound(e api.Expr, l *layer) code {
 	arg := g.code(e.Args[0], l)
 	b := g.block(e.Sub[0], l, nil)
-	values := func(f *frame) []api.Value {
-		return mapped(b.answer(f), func(row []api.Value) api.Value { return row[0] })
-	}
-	if b.open {
-		return func(f *frame) api.Value { return value.In(arg(f), values(f)) }
-	}
-	var s *set
-	return func(f *frame) api.Value {
-		if s == nil {
-			s = setOf(values(f))
-		}
-		return s.in(arg(f))
-	}
+	others := kept(b, func(f *frame) *set {
+		return setOf(mapped(b.answer(f), func(row []api.Value) api.Value { return row[0] }))
+	})
+	return func(f *frame) api.Value { return others(f).in(arg(f)) }
 }
 
 // isAmong returns the code of an XIn without Sub.

@@ -68,7 +68,7 @@ func (l *layer) placesIn(e api.Expr) []int {
 
 // load sees to it that the rows of a source are there. A select is executed again only if it depends on the frames around.
 func (s *supply) load(outer *frame) {
-	if s.sub == nil || s.loaded && !s.sub.open {
+	if s.sub == nil || s.loaded && len(s.sub.outside) == 0 {
 		return
 	}
 	s.rows, s.loaded, s.index = s.sub.answer(outer), true, nil
