@@ -158,12 +158,28 @@ func TestPlan(t *testing.T) {
 	}{
 		{api.Find{Entity: "tag", Where: conds(t, "equal(:id,?0)"), Limit: -1}, "key s1 tag\n"},
 		{api.Find{Entity: "worker", Where: conds(t, "and(equal(5,:id),null(:mate.name))"), Limit: -1}, "key s1 person\nscan s2 person\n"},
+		// The tables in which a dog stands, those in which only a puppy does, and where a path leads.
+		{api.Find{Entity: "dog", Order: orders("rival.name"), Limit: -1}, "scan s1 dog\nscan s2 pet\nscan s3 puppy\nscan s4 pet\n"},
+		// A path is followed once, a reference alone only if its object must be seen.
+		{api.Find{Entity: "person", Where: conds(t, "equal(:mate.mate.name,concat(:mate.mate.tall,:mate.name))"), Order: orders("mate.age", "mate"), Limit: -1}, "scan s1 person\nscan s2 person\nscan s3 person\n"},
+		{api.Find{Entity: "person", Where: conds(t, "null(:mate)"), Limit: -1}, "scan s1 person\nscan s2 person\n"},
+		{api.Find{Entity: "person", Where: conds(t, "null(:mate)"), Limit: -1, Gone: true}, "scan s1 person\n"},
+		{api.Find{Entity: "pet", Where: conds(t, "null(:owner)"), Limit: -1, Gone: true}, "scan s1 pet\nscan s2 dog\nscan s3 cat\nscan s4 puppy\n"},
 	} {
 		st, err := query.Compile(zoo(t), c.f, []int{api.Int})
 		must(t, err)
 		if got, err := sql.Explain(s, st); got != c.want || err != api.OK {
 			t.Error(got, err)
 		}
+	}
+}
+
+// P5.16: a total reads the tables in which objects of its entity stand, not those of entities below.
+func TestTablesOfTotals(t *testing.T) {
+	st, err := query.CompileTotal(zoo(t), api.Total{Entity: "dog", Group: []string{"nick"}, Aggs: []api.Agg{agg(api.AggRows, "")}}, nil)
+	must(t, err)
+	if got := sql.Tables(st); !same(got, []string{"dog", "pet"}) {
+		t.Error(got)
 	}
 }
 

@@ -87,7 +87,7 @@ func Read(s string) (api.Find, api.Errno) {
 		return api.Find{}, api.ErrSyntax
 	}
 	err := l.where(&f)
-	if err == api.ErrSyntax || !l.order(&f) || !l.numbers(&f) {
+	if !l.order(&f) || !l.numbers(&f) {
 		return api.Find{}, api.ErrSyntax
 	}
 	for path := ""; l.word("include", &path); {

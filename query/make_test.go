@@ -127,7 +127,7 @@ func (r *maker) relations(m *api.Model, i int) {
 			place := r.Intn(len(m.Entities))
 			from := m.Entities[r.Intn(len(m.Entities))].Name
 			m.Entities[place].Relations = append(m.Entities[place].Relations, api.Relation{Name: "m" + name, Kind: api.RelMany, To: from, Back: name})
-			if r.chance(2) {
+			if r.chance(3) {
 				m.Entities[place].Relations[len(m.Entities[place].Relations)-1].To = e.Name
 			}
 			continue
@@ -179,7 +179,7 @@ func (r *maker) guessWorld(most int) api.World {
 	for _, e := range r.m.Entities {
 		root := rootOf(r.m, e.Name)
 		for range r.Intn(most + 1) {
-			o := api.Object{Entity: e.Name, ID: 1 + r.Intn(4*most)}
+			o := api.Object{Entity: e.Name, ID: 1 + r.Intn(most+3)}
 			if root.Tenant {
 				o.Tenant = 1 + r.Intn(2)
 			}

@@ -1,6 +1,7 @@
 package query_test
 
 import (
+	"slices"
 	"strings"
 	"testing"
 
@@ -89,6 +90,45 @@ func TestMany(t *testing.T) {
 	}
 }
 
+// P5.1: entities that are further down, several of them below one.
+func TestDeepFamilies(t *testing.T) {
+	m := model(t, "entity a", "field fa int", "entity b of a", "field fb int", "entity c of b", "field fc int", "entity d of c", "field fd int", "entity e of c", "field fe int", "entity f of c", "field ff int", "entity g of d", "field fg int", "entity h of d", "field fh int")
+	above := map[string]string{"a": "a", "b": "ab", "c": "abc", "d": "abcd", "e": "abce", "f": "abcf", "g": "abcdg", "h": "abcdh"}
+	for entity, line := range above {
+		for other := range above {
+			want := api.ErrName
+			if strings.Contains(line, other) {
+				want = api.OK
+			}
+			if slot, err := query.Path(m, entity, "f"+other); err != want || err == api.OK && slot.Entity != other {
+				t.Error(entity, other, slot, err)
+			}
+		}
+	}
+	l, err := query.Columns(m, "c")
+	if len(l) != 8 || l[3].Name != "fd" || l[7].Name != "fh" || err != api.OK {
+		t.Error(l, err)
+	}
+	kinds := map[string][]string{}
+	var w api.World
+	for i, entity := range []string{"a", "b", "c", "d", "e", "f", "g", "h"} {
+		w.Objects = append(w.Objects, api.Object{Entity: entity, ID: i + 1, Values: slices.Repeat(row(integer(1)), len(above[entity]))})
+	}
+	for entity := range above {
+		refs, err := query.Objects(m, w, api.Find{Entity: "a", Where: []api.Expr{{Kind: api.XIs, Name: entity}}, Limit: -1}, nil)
+		must(t, err)
+		for _, o := range refs {
+			kinds[o.Entity] = append(kinds[o.Entity], entity)
+		}
+	}
+	for entity, l := range kinds {
+		slices.Sort(l)
+		if want := strings.Split(above[entity], ""); !same(l, want) {
+			t.Error(entity, l)
+		}
+	}
+}
+
 // P5.17: steps of inclusions.
 func TestSteps(t *testing.T) {
 	step := func(from int, relation, entity, to string) api.Step {
@@ -147,7 +187,7 @@ func TestStepsErrors(t *testing.T) {
 
 // Paths tells the relations of all paths of a find, and from where they are read.
 func TestPaths(t *testing.T) {
-	f := api.Find{Entity: "cat", Where: conds(t, "and(some:fears.hunts(and(equal(up:fears.name,?3),is:puppy(:fears.rival))),or(equal(:name,'x'),equal(:owner,1)))"), Order: []api.By{{Path: "name"}, {Path: "owner.mate.age"}}, Limit: -1, Include: []string{"owner.tags", "prey"}}
+	f := api.Find{Entity: "cat", Where: conds(t, "and(some:fears.hunts(and(equal(up:fears.name,concat(?0,?3)),is:puppy(:fears.rival))),or(equal(:name,'x'),equal(:owner,1)))"), Order: []api.By{{Path: "name"}, {Path: "owner.mate.age"}}, Limit: -1, Include: []string{"owner.tags", "prey"}}
 	var got [][2]string
 	query.Paths(zoo(t), f, func(entity, path string) { got = append(got, [2]string{entity, path}) })
 	want := [][2]string{{"cat", "fears.hunts"}, {"cat", "fears"}, {"cat", "fears.rival"}, {"cat", "owner"}, {"cat", "owner.mate"}, {"cat", "owner.tags"}, {"cat", "prey"}}

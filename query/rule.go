@@ -177,7 +177,7 @@ func Holds(m api.Model, w api.World, o api.Ref, e api.Expr, params []api.Value) 
 		return api.Value{}, err
 	}
 	at := s.entityAt(place)
-	if _, err := (checker{s.catalog, kinds, true}).kindOfWhole(e, at); err != api.OK {
+	if _, err := (checker{catalog: s.catalog, params: kinds}).kindOfWhole(e, at); err != api.OK {
 		return api.Value{}, err
 	}
 	return judge{s, params}.rule(e, &spot{entity: at})(&frame{place: place}), api.OK

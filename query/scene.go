@@ -81,7 +81,7 @@ func (s *scene) ref(place int) api.Ref {
 
 // find returns the place of an object to which something of a tenant refers, -1 if there is none.
 func (s *scene) find(e *entity, tenant, id int) int {
-	if i, ok := s.places[nameIn(e, tenant, id)]; ok && id != 0 {
+	if i, ok := s.places[nameIn(e, tenant, id)]; ok {
 		return i
 	}
 	return -1
@@ -110,11 +110,8 @@ func (s *scene) many(place int, x member) []int {
 	lists, ok := s.related[name]
 	if !ok {
 		lists = map[int][]int{}
-		add := func(from, to int) {
-			if from >= 0 && to >= 0 {
-				lists[from] = append(lists[from], to)
-			}
-		}
+		// What refers to nothing stands at -1.
+		add := func(from, to int) { lists[from] = append(lists[from], to) }
 		if x.what == isMany {
 			s.eachBack(x, add)
 		} else {

@@ -13,7 +13,7 @@ import (
 func TestExprText(t *testing.T) {
 	for s, e := range map[string]api.Expr{
 		"some:pets()": multi(api.XSome, "pets"), "every:a.b_1(null)": multi(api.XEvery, "a.b_1", lit(null)), "many:x(many:y())": multi(api.XMany, "x", multi(api.XMany, "y")), "many:...(true)": multi(api.XMany, "...", lit(boolean(1))),
-		"is:dog()": {Kind: api.XIs, Name: "dog"}, "is:1(:a.b)": {Kind: api.XIs, Name: "1", Source: "a.b"}, "is:is(:up)": {Kind: api.XIs, Name: "is", Source: "up"},
+		"some:az09_.z()": multi(api.XSome, "az09_.z"), "is:dog()": {Kind: api.XIs, Name: "dog"}, "is:1(:a.b)": {Kind: api.XIs, Name: "1", Source: "a.b"}, "is:is(:up)": {Kind: api.XIs, Name: "is", Source: "up"},
 		"up:owner.name": col("up", "owner.name"), "some:pets": col("some", "pets"), ":some": col("", "some"), "is:dog": col("is", "dog"), "x.y:z_": col("x.y", "z_"),
 		"and(some:pets(less(:age,3)),is:dog())":     op(api.OpAnd, multi(api.XSome, "pets", op(api.OpLess, col("", "age"), lit(integer(3)))), api.Expr{Kind: api.XIs, Name: "dog"}),
 		"in('it''s (,)',',','')":                    {Kind: api.XIn, Args: []api.Expr{lit(text("it's (,)")), lit(text(",")), lit(text(""))}},

@@ -14,7 +14,7 @@ func zooLines() []string {
 		"embed address", "field city text null", "field zip int null default 7",
 		"entity person version soft",
 		"field name text", "field age int null", "field home embed address", "field adult bool = atleast(:age,18)", "field tall text = concat(:name,'!')",
-		"one mate person clear", "many pets pet owner", "many dogs dog owner", "pairs tags tag people", "pairs friends person friends",
+		"one mate person clear", "many pets pet owner", "many dogs dog owner", "many helpers worker mate", "pairs tags tag people", "pairs friends person friends",
 		"entity worker of person",
 		"field pay int default 5", "field since moment null",
 		"one boss worker need refuse", "many staff worker boss",

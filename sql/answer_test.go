@@ -284,6 +284,32 @@ type call struct {
 	Params []api.Value
 }
 
+// P4.6: a select within others is not executed again for the same rows around it. (It would take 4 to the power of 24 steps here.)
+func TestNestedSelects(t *testing.T) {
+	name := func(level int) string { return "n" + strconv.Itoa(level) }
+	var nest func(level int, last api.Expr) api.Expr
+	nest = func(level int, last api.Expr) api.Expr {
+		if level == 25 {
+			return last
+		}
+		q := ids("pet", name(level))
+		q.Where = exprs(op(api.OpAnd, op(api.OpGreater, col(name(level), "id"), num(0)), nest(level+1, last)))
+		return exists(q)
+	}
+	q := ids("pet", name(0))
+	for _, c := range []struct {
+		last api.Expr
+		want [][]api.Value
+	}{
+		{op(api.OpEqual, col(name(24), "id"), num(9)), nil}, {op(api.OpLess, col(name(24), "id"), col(name(0), "id")), rows(row(integer(2)), row(integer(3)), row(integer(4)))}, {op(api.OpLess, col(name(24), "id"), col(name(23), "id")), rows(row(integer(1)), row(integer(2)), row(integer(3)), row(integer(4)))},
+	} {
+		q.Where = exprs(nest(1, c.last))
+		if got := answer(t, q); !same(got, c.want) {
+			t.Error(got)
+		}
+	}
+}
+
 // P4.6 to P4.8: the errors of Answer, Effect and Bind, in their order.
 func TestErrorsOfCalls(t *testing.T) {
 	q := people(op(api.OpAdd, par(0), par(1)))
