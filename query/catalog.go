@@ -55,6 +55,14 @@ func (e *entity) tables() int {
 	return 1
 }
 
+// home returns the name of the table in which an entity of the family has its own columns.
+func (e *entity) home(name string) string {
+	if e.root.Apart {
+		return name
+	}
+	return e.root.Name
+}
+
 // catalog has the entities of a right model, each of them from when it was first asked for.
 type catalog struct {
 	model    api.Model

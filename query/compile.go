@@ -65,17 +65,18 @@ type thing struct {
 	ones     map[string]*thing // to which its RelOnes lead, as far as they have been joined
 }
 
+// newThing returns an object of an entity whose rows are in no source yet.
+func newThing(e *entity, optional bool) *thing {
+	return &thing{e, map[string]string{}, optional, map[string]*thing{}}
+}
+
 // column returns the column of a slot: for embedded values both names with an underscore between them, for a reference with id behind it.
 func (t *thing) column(slot api.Slot, isOne bool) api.Expr {
-	table := t.entity.root.Name
-	if t.entity.root.Apart {
-		table = slot.Entity
-	}
 	name := strings.ReplaceAll(slot.Name, ".", "_")
 	if isOne {
 		name += "_id"
 	}
-	return column(t.sources[table], name)
+	return column(t.sources[t.entity.home(slot.Entity)], name)
 }
 
 // head returns a column that the table of the root has.
@@ -147,29 +148,30 @@ func (b *block) query() api.Select {
 	return q
 }
 
+// blockOf returns a block within another one, for objects of an entity, whose first source is a table.
+func (c *compiler) blockOf(outer *block, e *entity, table string) *block {
+	return &block{compiler: c, outer: outer, object: newThing(e, false), from: c.source(table)}
+}
+
+// begin makes the first source of the block that of a table of the family of its objects, and joins the others of their line.
+func (b *block) begin(table string) {
+	b.object.sources[table] = b.from.Name
+	b.joinLine(b.object, b.from.Name)
+}
+
 // objects returns a block with the objects of an entity and those below it. wide says whether it has the columns of all of them.
 func (c *compiler) objects(e *entity, wide bool) *block {
-	b := &block{compiler: c}
-	t := &thing{entity: e, sources: map[string]string{}, ones: map[string]*thing{}}
-	b.object = t
-	if !e.root.Apart {
-		b.from = c.source(e.root.Name)
-		t.sources[e.root.Name] = b.from.Name
-		b.conditions = c.seen(t)
-		if e.name != e.root.Name {
-			b.conditions = append(b.conditions, t.typeIn(e))
-		}
-		return b
-	}
-	b.from = c.source(e.name)
-	t.sources[e.name] = b.from.Name
-	b.joinLine(t, b.from.Name)
-	if wide {
+	b := c.blockOf(nil, e, e.home(e.name))
+	b.begin(e.home(e.name))
+	if wide && e.root.Apart {
 		for _, name := range e.family[1:] {
-			b.joinTable(t, name, b.from.Name, true)
+			b.joinTable(b.object, name, b.from.Name, true)
 		}
 	}
-	b.conditions = c.seen(t)
+	b.conditions = c.seen(b.object)
+	if !e.root.Apart && e.name != e.root.Name {
+		b.conditions = append(b.conditions, b.object.typeIn(e))
+	}
 	return b
 }
 
@@ -210,21 +212,23 @@ func (b *block) step(t *thing, one member) *thing {
 	if to := t.ones[one.slot.Name]; to != nil {
 		return to
 	}
-	e := b.entity(one.slot.To)
-	to := &thing{entity: e, sources: map[string]string{}, optional: true, ones: map[string]*thing{}}
+	to := newThing(b.entity(one.slot.To), true)
 	t.ones[one.slot.Name] = to
-	x := b.source(e.root.Name)
-	to.sources[e.root.Name] = x.Name
-	on := []api.Expr{equal(to.head("id"), t.column(one.slot, true))}
-	if e.root.Tenant {
-		on = append(on, equal(to.head("tenant"), t.head("tenant")))
-	}
-	if e.root.Soft && !b.gone {
-		on = append(on, operation(api.OpNull, to.head("gone")))
-	}
-	b.joins = append(b.joins, api.Join{Left: true, Source: x, On: all(on)})
-	b.joinLine(to, x.Name)
+	b.joinRoot(to, t.column(one.slot, true), t.head("tenant"))
 	return to
+}
+
+// joinRoot joins the tables in which an object stands that is seen, that of the root by its id, and its tenant, if its family has one.
+func (b *block) joinRoot(t *thing, id, tenant api.Expr) {
+	x := b.source(t.entity.root.Name)
+	t.sources[x.Table] = x.Name
+	on := []api.Expr{equal(t.head("id"), id)}
+	if t.entity.root.Tenant {
+		on = append(on, equal(t.head("tenant"), tenant))
+	}
+	on = append(on, b.seen(t)...)
+	b.joins = append(b.joins, api.Join{Left: t.optional, Source: x, On: all(on)})
+	b.joinLine(t, x.Name)
 }
 
 // steps is step for several RelOnes, one after another.

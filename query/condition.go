@@ -33,19 +33,16 @@ func (b *block) spot() *spot {
 // is returns whether the object of a route is of an entity, or below it.
 func (b *block) is(e *entity, r route) api.Expr {
 	t := b.steps(b.object, r.relations())
-	var is api.Expr
+	no := literal(api.Value{Kind: api.Bool})
 	switch {
-	case t.entity.root.Name != e.root.Name, !t.entity.isOf(e.name) && !e.isOf(t.entity.name):
-		return literal(api.Value{Kind: api.Bool})
 	case t.entity.isOf(e.name):
 		return operation(api.OpNot, operation(api.OpNull, t.head("id")))
-	default:
-		is = t.typeIn(e)
+	case !e.isOf(t.entity.name):
+		return no
+	case t.optional:
+		return operation(api.OpCoalesce, t.typeIn(e), no)
 	}
-	if t.optional {
-		is = operation(api.OpCoalesce, is, literal(api.Value{Kind: api.Bool}))
-	}
-	return is
+	return t.typeIn(e)
 }
 
 // one is the name of an item that is 1.
@@ -58,28 +55,24 @@ func oneItem() []api.Item { return []api.Item{{Name: one, Expr: literal(number(1
 func (b *block) multi(e api.Expr, r route) api.Expr {
 	inner := b.related(b.steps(b.object, r.ones), r.end)
 	inner.items = oneItem()
-	count := api.Expr{Kind: api.XAgg, Op: api.AggRows}
-	var having []api.Expr
+	var judged api.Expr
 	for _, arg := range e.Args {
-		// What the condition is true for is joined with one row. So the condition is no deeper than it must be.
+		// A row with 1 is joined with the objects for which the condition is true: so it is no deeper within the select than it must be.
 		condition := inner.condition(arg)
 		x := api.Source{Name: inner.name(), Sub: []api.Select{{Items: oneItem(), Limit: -1}}}
 		inner.joins = append(inner.joins, api.Join{Left: e.Kind == api.XEvery, Source: x, On: condition})
-		if e.Kind == api.XEvery {
-			holds := api.Expr{Kind: api.XAgg, Op: api.AggCount, Args: []api.Expr{column(x.Name, one)}}
-			having = []api.Expr{equal(count, holds)}
-		}
-	}
-	if e.Kind == api.XMany {
-		inner.items[0].Expr = count
+		judged = column(x.Name, one)
 	}
 	q := inner.query()
-	q.Having = having
-	kind := api.XExists
-	if e.Kind == api.XMany {
-		kind = api.XScalar
+	rows := api.Expr{Kind: api.XAgg, Op: api.AggRows}
+	switch e.Kind {
+	case api.XMany:
+		q.Items[0].Expr = rows
+		return api.Expr{Kind: api.XScalar, Sub: []api.Select{q}}
+	case api.XEvery:
+		q.Having = []api.Expr{equal(rows, api.Expr{Kind: api.XAgg, Op: api.AggCount, Args: []api.Expr{judged}})}
 	}
-	return api.Expr{Kind: kind, Sub: []api.Select{q}}
+	return api.Expr{Kind: api.XExists, Sub: []api.Select{q}}
 }
 
 // related returns a block with the objects that an object has by a RelMany or RelPairs.
@@ -94,29 +87,23 @@ func (b *block) related(t *thing, x member) *block {
 func (b *block) referring(t *thing, x member) *block {
 	e := b.entity(x.slot.To)
 	back := e.members[x.relation.Back].slot
-	home := e.root.Name
-	if e.root.Apart {
-		home = back.Entity
-	}
-	inner := b.inner(e, home)
-	to := inner.object
-	to.sources[home] = inner.from.Name
-	inner.conditions = []api.Expr{equal(to.column(back, true), t.head("id"))}
-	if t.entity.root.Tenant {
-		inner.conditions = append(inner.conditions, equal(column(inner.from.Name, "tenant"), t.head("tenant")))
-	}
-	inner.joinLine(to, inner.from.Name)
-	inner.conditions = append(inner.conditions, b.seen(to)...)
+	home := e.home(back.Entity)
+	inner := b.blockOf(b, e, home)
+	inner.begin(home)
+	inner.link(t, equal(inner.object.column(back, true), t.head("id")))
+	inner.conditions = append(inner.conditions, b.seen(inner.object)...)
 	if !e.root.Apart && back.Entity != e.name {
-		inner.conditions = append(inner.conditions, to.typeIn(e))
+		inner.conditions = append(inner.conditions, inner.object.typeIn(e))
 	}
 	return inner
 }
 
-// inner returns a block within another one, for objects of an entity, whose first source is a table.
-func (b *block) inner(e *entity, table string) *block {
-	to := &thing{entity: e, sources: map[string]string{}, ones: map[string]*thing{}}
-	return &block{compiler: b.compiler, outer: b, object: to, from: b.source(table)}
+// link adds the condition by which rows of the first source belong to an object of the block around: another tenant has none of them.
+func (b *block) link(t *thing, condition api.Expr) {
+	b.conditions = append(b.conditions, condition)
+	if t.entity.root.Tenant {
+		b.conditions = append(b.conditions, equal(column(b.from.Name, "tenant"), t.head("tenant")))
+	}
 }
 
 // paired returns a block with the objects that an object has in pairs.
@@ -125,31 +112,20 @@ func (b *block) paired(t *thing, p pairing) *block {
 	if !p.forward {
 		e = p.left
 	}
-	inner := b.inner(e, p.owner+"_"+p.relation)
+	inner := b.blockOf(b, e, p.owner+"_"+p.relation)
 	left, right := column(inner.from.Name, "left_id"), column(inner.from.Name, "right_id")
 	isLeft, isRight := equal(left, t.head("id")), equal(right, t.head("id"))
 	other := left
 	switch {
 	case p.forward && p.backward:
-		inner.conditions = []api.Expr{operation(api.OpOr, isLeft, isRight)}
-		other = api.Expr{Kind: api.XCase, Args: []api.Expr{equal(left, t.head("id")), right, left}}
+		inner.link(t, operation(api.OpOr, isLeft, isRight))
+		other = api.Expr{Kind: api.XCase, Args: []api.Expr{copied(isLeft), right, left}}
 	case p.forward:
-		inner.conditions, other = []api.Expr{isLeft}, right
+		inner.link(t, isLeft)
+		other = right
 	default:
-		inner.conditions = []api.Expr{isRight}
+		inner.link(t, isRight)
 	}
-	if t.entity.root.Tenant {
-		inner.conditions = append(inner.conditions, equal(column(inner.from.Name, "tenant"), t.head("tenant")))
-	}
-	to := inner.object
-	x := b.source(e.root.Name)
-	to.sources[e.root.Name] = x.Name
-	on := []api.Expr{equal(to.head("id"), other)}
-	if e.root.Tenant {
-		on = append(on, equal(to.head("tenant"), column(inner.from.Name, "tenant")))
-	}
-	inner.joins = append(inner.joins, api.Join{Source: x, On: all(on)})
-	inner.joinLine(to, x.Name)
-	inner.conditions = append(inner.conditions, b.seen(to)...)
+	inner.joinRoot(inner.object, other, column(inner.from.Name, "tenant"))
 	return inner
 }
