@@ -4,6 +4,7 @@ import (
 	"slices"
 
 	"dumbwaiter/api"
+	"dumbwaiter/listing"
 	"dumbwaiter/value"
 )
 
@@ -48,7 +49,7 @@ func checkTable(t api.Table, before string) api.Errno {
 // checkNext checks a name that stands behind another one, or, if that is empty, is the first one.
 func checkNext(name, before string) api.Errno {
 	switch {
-	case !isTall(name):
+	case !listing.IsTall(name):
 		return api.ErrName
 	case name <= before:
 		return api.ErrOrder
@@ -60,7 +61,7 @@ func checkNext(name, before string) api.Errno {
 func checkColumns(l []api.Column) api.Errno {
 	for i, c := range l {
 		switch {
-		case !isTall(c.Name):
+		case !listing.IsTall(c.Name):
 			return api.ErrName
 		case columnPlace(l[:i], c.Name) >= 0:
 			return api.ErrTwice

@@ -2,15 +2,16 @@ package schema
 
 import (
 	"dumbwaiter/api"
+	"dumbwaiter/listing"
 	"dumbwaiter/value"
 )
 
 // Read returns the model with a text.
-func Read(s string) (api.Model, api.Errno) { return readListing(s, readModel, modelText, Check) }
+func Read(s string) (api.Model, api.Errno) { return listing.Read(s, readModel, modelText, Check) }
 
 // readModel returns the only model that can have a text; it need not have it. All of its parts are such that they have texts.
 func readModel(s string) (api.Model, bool) {
-	lines, ok := linesOf(s)
+	lines, ok := listing.Lines(s)
 	var m api.Model
 	for _, w := range lines {
 		ok = ok && readLine(&m, w)
@@ -19,7 +20,7 @@ func readModel(s string) (api.Model, bool) {
 }
 
 // readLine adds what a line says to a model.
-func readLine(m *api.Model, w words) bool {
+func readLine(m *api.Model, w listing.Words) bool {
 	switch w[0] {
 	case "embed":
 		m.Embeds = append(m.Embeds, api.Embed{})
@@ -38,7 +39,7 @@ func readLine(m *api.Model, w words) bool {
 }
 
 // readEmbed reads the first line of an embedded value.
-func readEmbed(e *api.Embed, w words) bool {
+func readEmbed(e *api.Embed, w listing.Words) bool {
 	if len(w) != 2 || !isWord(w[1]) {
 		return false
 	}
@@ -47,8 +48,8 @@ func readEmbed(e *api.Embed, w words) bool {
 }
 
 // readHead reads the first line of an entity.
-func readHead(e *api.Entity, w words) bool {
-	if !w.all(2, isWord) {
+func readHead(e *api.Entity, w listing.Words) bool {
+	if !w.All(2, isWord) {
 		return false
 	}
 	e.Name = w[1]
@@ -75,16 +76,16 @@ func readHead(e *api.Entity, w words) bool {
 }
 
 // readMember reads another line of an entity.
-func readMember(e *api.Entity, w words) bool {
+func readMember(e *api.Entity, w listing.Words) bool {
 	switch w[0] {
 	case "field":
 		return readField(&e.Fields, w)
 	case "unique":
 		e.Uniques = append(e.Uniques, w[1:])
-		return w[1:].all(0, isElement)
+		return w[1:].All(0, isElement)
 	case "index":
 		e.Indexes = append(e.Indexes, w[1:])
-		return w[1:].all(0, isElement)
+		return w[1:].All(0, isElement)
 	}
 	r, ok := readRelation(w)
 	e.Relations = append(e.Relations, r)
@@ -92,7 +93,7 @@ func readMember(e *api.Entity, w words) bool {
 }
 
 // readField reads the line of a field.
-func readField(fields *[]api.Field, w words) bool {
+func readField(fields *[]api.Field, w listing.Words) bool {
 	if len(w) < 3 || !isWord(w[1]) {
 		return false
 	}
@@ -104,13 +105,13 @@ func readField(fields *[]api.Field, w words) bool {
 		f.Of = w[len(w)-1]
 	case len(rest) == 2 && rest[0] == "=":
 		formula, err := value.ExprRead(rest[1])
-		f.Kind = kindWords().numberOf(w[2])
+		f.Kind = listing.Kinds().NumberOf(w[2])
 		f.Formula = []api.Expr{formula}
 		ok = err == api.OK && isKind(f.Kind)
 	default:
-		t, right := readTraits(rest)
-		f.Kind = kindWords().numberOf(w[2])
-		f.Null, f.Default, f.Texts = t.null, t.initial, t.texts
+		t, right := listing.ReadTraits(rest)
+		f.Kind = listing.Kinds().NumberOf(w[2])
+		f.Null, f.Default, f.Texts = t.Null, t.Default, t.Texts
 		ok = right && isKind(f.Kind)
 	}
 	*fields = append(*fields, f)
@@ -118,11 +119,11 @@ func readField(fields *[]api.Field, w words) bool {
 }
 
 // readRelation reads the line of a relation.
-func readRelation(w words) (api.Relation, bool) {
-	if !w.all(3, isWord) || isOption(w[1]) {
+func readRelation(w listing.Words) (api.Relation, bool) {
+	if !w.All(3, isWord) || isOption(w[1]) {
 		return api.Relation{}, false
 	}
-	r := api.Relation{Kind: relationWords().numberOf(w[0]), Name: w[1], To: w[2]}
+	r := api.Relation{Kind: relationWords().NumberOf(w[0]), Name: w[1], To: w[2]}
 	for _, word := range w[3:] {
 		switch {
 		case word == "need":
@@ -130,7 +131,7 @@ func readRelation(w words) (api.Relation, bool) {
 		case word == "save":
 			r.Cascade = true
 		case isOption(word):
-			r.OnDelete = deleteWords().numberOf(word)
+			r.OnDelete = deleteWords().NumberOf(word)
 		default:
 			r.Back = word
 		}

@@ -4,6 +4,7 @@ import (
 	"testing"
 
 	"dumbwaiter/api"
+	"dumbwaiter/clone"
 	"dumbwaiter/schema"
 	"dumbwaiter/value"
 )
@@ -88,7 +89,7 @@ func TestBodies(t *testing.T) {
 		for _, part := range x.parts {
 			part(&w)
 		}
-		st := begun(cloneSchema(s), "")
+		st := begun(clone.Schema(s), "")
 		a := st.Begin()
 		if err := a.Batch([]api.RowChange{insert(1, "a"), insert(2, "b")}); err != api.OK {
 			t.Fatal(err)

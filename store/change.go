@@ -5,6 +5,7 @@ import (
 	"strings"
 
 	"dumbwaiter/api"
+	"dumbwaiter/clone"
 	"dumbwaiter/schema"
 	"dumbwaiter/value"
 )
@@ -26,7 +27,7 @@ func changedSchema(s api.Schema, c api.Change) (api.Schema, api.Errno) {
 	if !isLean(c) {
 		return api.Schema{}, api.ErrForm
 	}
-	a := alteration{Change: c, schema: cloneSchema(s)}
+	a := alteration{Change: c, schema: clone.Schema(s)}
 	if c.Kind != api.ChCreate {
 		place := a.tablePlace(c.Table)
 		if place < 0 {
@@ -129,11 +130,11 @@ func (a *alteration) apply() api.Errno {
 	case api.ChDefault:
 		return a.setDefault()
 	case api.ChIndex:
-		return include(&a.table.Indexes, indexName, cloneIndex(a.Index))
+		return include(&a.table.Indexes, indexName, clone.Index(a.Index))
 	case api.ChUnindex:
 		return exclude(&a.table.Indexes, indexName, a.Name)
 	case api.ChForeign:
-		return include(&a.table.Foreigns, foreignName, cloneForeign(a.Foreign))
+		return include(&a.table.Foreigns, foreignName, clone.Foreign(a.Foreign))
 	case api.ChUnforeign:
 		return exclude(&a.table.Foreigns, foreignName, a.Name)
 	}
@@ -206,7 +207,7 @@ func (a *alteration) create() api.Errno {
 	if a.tablePlace(a.New.Name) >= 0 {
 		return api.ErrTwice
 	}
-	a.schema.Tables = append(a.schema.Tables, cloneTable(a.New))
+	a.schema.Tables = append(a.schema.Tables, clone.Table(a.New))
 	return api.OK
 }
 

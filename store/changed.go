@@ -2,6 +2,7 @@ package store
 
 import (
 	"dumbwaiter/api"
+	"dumbwaiter/clone"
 	"dumbwaiter/schema"
 	"dumbwaiter/value"
 )
@@ -18,7 +19,7 @@ func Changed(s api.Schema, d api.Data, c api.Change) (api.Schema, api.Data, api.
 	if err != api.OK {
 		return api.Schema{}, api.Data{}, err
 	}
-	return cloneSchema(next.frame.schema), next.data(), api.OK
+	return clone.Schema(next.frame.schema), next.data(), api.OK
 }
 
 // stateOf returns the state of right data, which it keeps.
@@ -88,10 +89,12 @@ func (h *shape) reshaper(c api.Change) func(row []api.Value) ([]api.Value, api.E
 	place := columnPlace(&h.table, c.Name)
 	switch c.Kind {
 	case api.ChAdd:
-		return func(row []api.Value) ([]api.Value, api.Errno) { return append(cloneRow(row), c.Column.Default), api.OK }
+		return func(row []api.Value) ([]api.Value, api.Errno) {
+			return append(clone.Row(row), c.Column.Default), api.OK
+		}
 	case api.ChRemove:
 		return func(row []api.Value) ([]api.Value, api.Errno) {
-			return append(cloneRow(row[:place]), row[place+1:]...), api.OK
+			return append(clone.Row(row[:place]), row[place+1:]...), api.OK
 		}
 	case api.ChCast:
 		return instead(place, func(v api.Value) (api.Value, api.Errno) { return castOf(v, c.Column.Kind) })
@@ -108,7 +111,7 @@ func (h *shape) reshaper(c api.Change) func(row []api.Value) ([]api.Value, api.E
 func instead(place int, f func(v api.Value) (api.Value, api.Errno)) func(row []api.Value) ([]api.Value, api.Errno) {
 	return func(row []api.Value) ([]api.Value, api.Errno) {
 		v, err := f(row[place])
-		next := cloneRow(row)
+		next := clone.Row(row)
 		next[place] = v
 		return next, err
 	}

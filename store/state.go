@@ -2,6 +2,7 @@ package store
 
 import (
 	"dumbwaiter/api"
+	"dumbwaiter/clone"
 )
 
 // state is the tables at one moment. It is never changed; a changed state shares with it what has stayed.
@@ -82,7 +83,16 @@ func (s *state) rows(table int) [][]api.Value {
 func (s *state) data() api.Data {
 	var d api.Data
 	for i, t := range s.frame.schema.Tables {
-		d.Tables = append(d.Tables, api.TableRows{Table: t.Name, Rows: cloneRows(s.rows(i))})
+		d.Tables = append(d.Tables, api.TableRows{Table: t.Name, Rows: clone.Rows(s.rows(i))})
 	}
 	return d
+}
+
+// mapped returns the results of a function for the elements of a list.
+func mapped[T, U any](l []T, f func(x T) U) []U {
+	c := make([]U, len(l))
+	for i, x := range l {
+		c[i] = f(x)
+	}
+	return c
 }

@@ -4,6 +4,7 @@ import (
 	"slices"
 
 	"dumbwaiter/api"
+	"dumbwaiter/clone"
 	"dumbwaiter/value"
 )
 
@@ -26,7 +27,7 @@ func (t *Txn) Schema() (api.Schema, api.Errno) {
 	if t.ended {
 		return api.Schema{}, api.ErrState
 	}
-	return cloneSchema(t.now.frame.schema), api.OK
+	return clone.Schema(t.now.frame.schema), api.OK
 }
 
 // Data returns all rows.
@@ -65,7 +66,7 @@ func (t *Txn) Get(table string, key []api.Value) ([]api.Value, api.Errno) {
 	if row == nil {
 		return nil, api.ErrNone
 	}
-	return cloneRow(row), api.OK
+	return clone.Row(row), api.OK
 }
 
 // Scan returns all rows of a table.
@@ -75,7 +76,7 @@ func (t *Txn) Scan(table string) ([][]api.Value, api.Errno) {
 		return nil, err
 	}
 	t.noted[mark{about: onTable, table: number}] = true
-	return cloneRows(t.now.rows(number)), api.OK
+	return clone.Rows(t.now.rows(number)), api.OK
 }
 
 // Find returns the rows with some values of an index.
@@ -98,7 +99,7 @@ func (t *Txn) Find(table, index string, values []api.Value) ([][]api.Value, api.
 		found = append(found, joined(nil, h.keyOf(row), row, nil))
 		return true
 	})
-	return mapped(sorted(found), func(n *node) []api.Value { return cloneRow(n.row) }), api.OK
+	return mapped(sorted(found), func(n *node) []api.Value { return clone.Row(n.row) }), api.OK
 }
 
 // checkIndexed checks values of the first columns of an index.

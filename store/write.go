@@ -4,6 +4,7 @@ import (
 	"slices"
 
 	"dumbwaiter/api"
+	"dumbwaiter/clone"
 	"dumbwaiter/value"
 )
 
@@ -59,7 +60,7 @@ func (h *shape) writeOf(c api.RowChange) (write, api.Errno) {
 		if err := h.checkRow(c.Row); err != api.OK {
 			return w, err
 		}
-		w.row, w.rowKey = cloneRow(c.Row), h.keyOf(c.Row)
+		w.row, w.rowKey = clone.Row(c.Row), h.keyOf(c.Row)
 	}
 	return w, api.OK
 }
