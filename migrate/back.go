@@ -25,31 +25,52 @@ func Back(s api.Schema, l []api.Change) ([]api.Change, api.Errno) {
 
 // inverse returns the changes that take a change back.
 func (x step) inverse() []api.Change {
+	back := api.Change{Table: x.Table}
 	switch x.Kind {
-	case api.ChCreate:
-		return []api.Change{{Kind: api.ChDrop, Table: x.New.Name}}
-	case api.ChDrop:
-		return []api.Change{{Kind: api.ChCreate, New: x.table()}}
-	case api.ChRename:
-		return []api.Change{{Kind: api.ChRename, Table: x.Name, Name: x.Table}}
-	case api.ChAdd:
-		return []api.Change{{Kind: api.ChRemove, Table: x.Table, Name: x.Column.Name}}
 	case api.ChRemove:
 		return x.inverseOfRemove()
-	case api.ChMove:
-		return []api.Change{{Kind: api.ChMove, Table: x.Table, Name: x.Name2, Name2: x.Name}}
 	case api.ChCast:
 		return x.inverseOfCast()
 	case api.ChLoose:
 		return x.inverseOfLoose()
 	case api.ChTight:
 		return x.inverseOfTight()
+	case api.ChCreate:
+		back = api.Change{Kind: api.ChDrop, Table: x.New.Name}
+	case api.ChDrop:
+		back = api.Change{Kind: api.ChCreate, New: x.table()}
+	case api.ChRename:
+		back = api.Change{Kind: api.ChRename, Table: x.Name, Name: x.Table}
+	case api.ChAdd:
+		back.Kind, back.Name = api.ChRemove, x.Column.Name
+	case api.ChMove:
+		back.Kind, back.Name, back.Name2 = api.ChMove, x.Name2, x.Name
 	case api.ChDefault:
-		return []api.Change{x.oldDefault()}
+		back = x.oldDefault()
+	case api.ChIndex:
+		back.Kind, back.Name = api.ChUnindex, x.Index.Name
+	case api.ChUnindex:
+		back.Kind, back.Index = api.ChIndex, x.index()
+	case api.ChForeign:
+		back.Kind, back.Name = api.ChUnforeign, x.Foreign.Name
+	case api.ChUnforeign:
+		back.Kind, back.Foreign = api.ChForeign, x.foreign()
 	case api.ChOrder:
-		return []api.Change{x.oldOrder()}
+		back = x.oldOrder()
 	}
-	return x.inverseOfPart()
+	return []api.Change{back}
+}
+
+// index returns the index that the change names, as it is ahead of it.
+func (x step) index() api.Index {
+	l := x.table().Indexes
+	return l[slices.IndexFunc(l, func(i api.Index) bool { return i.Name == x.Name })]
+}
+
+// foreign returns the foreign key that the change names, as it is ahead of it.
+func (x step) foreign() api.Foreign {
+	l := x.table().Foreigns
+	return l[slices.IndexFunc(l, func(f api.Foreign) bool { return f.Name == x.Name })]
 }
 
 // oldDefault returns the change that gives a column the Default that it had.
@@ -101,23 +122,4 @@ func (x step) inverseOfTight() []api.Change {
 		l = append(l, x.oldDefault())
 	}
 	return l
-}
-
-// inverseOfPart returns the changes that take back one of an index or a foreign key.
-func (x step) inverseOfPart() []api.Change {
-	back := api.Change{Table: x.Table}
-	t := x.table()
-	switch x.Kind {
-	case api.ChIndex:
-		back.Kind, back.Name = api.ChUnindex, x.Index.Name
-	case api.ChForeign:
-		back.Kind, back.Name = api.ChUnforeign, x.Foreign.Name
-	case api.ChUnindex:
-		back.Kind = api.ChIndex
-		back.Index = t.Indexes[slices.IndexFunc(t.Indexes, func(i api.Index) bool { return i.Name == x.Name })]
-	case api.ChUnforeign:
-		back.Kind = api.ChForeign
-		back.Foreign = t.Foreigns[slices.IndexFunc(t.Foreigns, func(f api.Foreign) bool { return f.Name == x.Name })]
-	}
-	return []api.Change{back}
 }

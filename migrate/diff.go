@@ -9,7 +9,7 @@ import (
 	"dumbwaiter/value"
 )
 
-// Diff returns changes from one schema to another one. Keys and unique indexes that stay are in force at any time, which does no harm: rows that agree in them at some time still do so at the end. All that foreign keys and indexes are new for is there ahead of them.
+// Diff returns changes from one schema to another one. What does not stay goes first, and new indexes and foreign keys come last. Keys, indexes and foreign keys that stay hold on the way, too, which does no harm: rows that violate them there would do so at the end.
 func Diff(a, b api.Schema, hints []api.Hint) ([]api.Change, api.Errno) {
 	if err := CheckHints(a, b, hints); err != api.OK {
 		return nil, err
@@ -38,18 +38,9 @@ type differ struct {
 
 func (d *differ) add(c api.Change) { d.list = append(d.list, c) }
 
-// twinOld returns the tables that match whose old one has a name.
-func (d *differ) twinOld(name string) (twin, bool) {
-	return d.twin(func(t twin) bool { return t.old.Name == name })
-}
-
-// twinFresh returns the tables that match whose new one has a name.
-func (d *differ) twinFresh(name string) (twin, bool) {
-	return d.twin(func(t twin) bool { return t.fresh.Name == name })
-}
-
-func (d *differ) twin(is func(t twin) bool) (twin, bool) {
-	place := slices.IndexFunc(d.twins, is)
+// match returns the old table with a name and the new one that matches it, and whether there is one.
+func (d *differ) match(old string) (twin, bool) {
+	place := slices.IndexFunc(d.twins, func(t twin) bool { return t.old.Name == old })
 	if place < 0 {
 		return twin{}, false
 	}
@@ -58,7 +49,7 @@ func (d *differ) twin(is func(t twin) bool) (twin, bool) {
 
 // keepsForeign reports whether an old foreign key is a new one without any change, but for names.
 func (d *differ) keepsForeign(t twin, old, fresh api.Foreign) bool {
-	target, there := d.twinOld(old.Table)
+	target, there := d.match(old.Table)
 	return old.Name == fresh.Name && there && target.fresh.Name == fresh.Table && slices.EqualFunc(old.Columns, fresh.Columns, t.stays)
 }
 
@@ -72,7 +63,7 @@ func (d *differ) drops() []string {
 	order, _, _ := schema.Order(d.a)
 	slices.Reverse(order)
 	return slices.DeleteFunc(order, func(name string) bool {
-		_, stays := d.twinOld(name)
+		_, stays := d.match(name)
 		return stays
 	})
 }
@@ -81,12 +72,13 @@ func (d *differ) drops() []string {
 func (d *differ) unlink() {
 	drops := d.drops()
 	for _, t := range d.a.Tables {
-		match, stays := d.twinOld(t.Name)
+		match, stays := d.match(t.Name)
 		for _, f := range t.Foreigns {
-			goes := stays && !slices.ContainsFunc(match.fresh.Foreigns, func(g api.Foreign) bool { return d.keepsForeign(match, f, g) })
+			kept := slices.ContainsFunc(match.fresh.Foreigns, func(g api.Foreign) bool { return d.keepsForeign(match, f, g) })
 			// Only in a circle a table is dropped ahead of one that refers to it.
 			target := slices.Index(drops, f.Table)
-			if goes || !stays && target >= 0 && target < slices.Index(drops, t.Name) {
+			inTheWay := !stays && target >= 0 && target < slices.Index(drops, t.Name)
+			if stays && !kept || inTheWay {
 				d.add(api.Change{Kind: api.ChUnforeign, Table: t.Name, Name: f.Name})
 			}
 		}
@@ -164,22 +156,7 @@ func (d *differ) reshape(t twin) {
 			d.add(api.Change{Kind: api.ChUnindex, Table: name, Name: x.Name})
 		}
 	}
-	var l []naming
-	for i, c := range t.old.Columns {
-		place := slices.Index(t.from, i)
-		if place < 0 {
-			d.add(api.Change{Kind: api.ChRemove, Table: name, Name: c.Name})
-			continue
-		}
-		l = append(l, naming{c.Name, t.fresh.Columns[place].Name})
-	}
-	for _, x := range namings(l) {
-		d.add(api.Change{Kind: api.ChMove, Table: name, Name: x.from, Name2: x.to})
-	}
-	var order []string
-	for _, x := range l {
-		order = append(order, x.to)
-	}
+	order := d.renameColumns(t)
 	for i, c := range t.fresh.Columns {
 		if t.from[i] >= 0 {
 			d.turn(name, t.old.Columns[t.from[i]], c)
@@ -191,6 +168,25 @@ func (d *differ) reshape(t twin) {
 	if names := columnNames(t.fresh); !slices.Equal(order, names) {
 		d.add(api.Change{Kind: api.ChOrder, Table: name, Columns: names})
 	}
+}
+
+// renameColumns removes the old columns that match none, and gives the others their new names. It returns the names of those that are left.
+func (d *differ) renameColumns(t twin) []string {
+	var l []naming
+	var left []string
+	for i, c := range t.old.Columns {
+		place := slices.Index(t.from, i)
+		if place < 0 {
+			d.add(api.Change{Kind: api.ChRemove, Table: t.fresh.Name, Name: c.Name})
+			continue
+		}
+		to := t.fresh.Columns[place].Name
+		l, left = append(l, naming{c.Name, to}), append(left, to)
+	}
+	for _, x := range namings(l) {
+		d.add(api.Change{Kind: api.ChMove, Table: t.fresh.Name, Name: x.from, Name2: x.to})
+	}
+	return left
 }
 
 // turn makes a new column of an old one that has its name already. The kind comes first: a Default of the new kind is what nulls become.

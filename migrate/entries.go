@@ -40,8 +40,12 @@ func changeOf(word string) (api.Change, bool) {
 	if word == listing.IndexWord(true) {
 		return api.Change{Kind: api.ChIndex, Index: api.Index{Unique: true}}, true
 	}
-	c := api.Change{Kind: slices.Index(kindWords[:], word)}
-	return c, c.Kind >= api.ChCreate
+	for kind, x := range kindWords {
+		if x == word && x != "" {
+			return api.Change{Kind: kind}, true
+		}
+	}
+	return api.Change{}, false
 }
 
 // entry is what some words of a text tell. One of its fields is there.
