@@ -379,6 +379,22 @@ func TestDeployStops(t *testing.T) {
 	}
 }
 
+// P6.16: a store that has nothing else, so that the table is the first one.
+func TestDeployFromNothing(t *testing.T) {
+	db, err := store.New(api.Schema{})
+	must(t, err)
+	l := []api.Migration{{Number: 1, Name: "a"}, {Number: 2, Name: "b", Up: list(t, "create pet", "column id int", "key id", "end"), Down: list(t, "drop pet")}}
+	if n, err := migrate.Deploy(db, l[:1]); n != 1 || err != api.OK || told(t, db.Schema()) != lines(history()...) {
+		t.Error(n, err)
+	}
+	if n, err := migrate.Deploy(db, l); n != 1 || err != api.OK || len(db.Schema().Tables) != 2 {
+		t.Error(n, err)
+	}
+	if n, err := migrate.Revert(db, l, 0); n != 2 || err != api.OK || told(t, db.Schema()) != lines(history()...) {
+		t.Error(n, err)
+	}
+}
+
 // P6.16: a store without room for the table.
 func TestDeployWithoutRoom(t *testing.T) {
 	var s api.Schema

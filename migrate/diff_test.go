@@ -128,6 +128,8 @@ func TestDiffOrder(t *testing.T) {
 		// Names in circles, and in a row.
 		{[]string{"a id:int", "b id:int", "c id:int"}, []string{"a id:int", "b id:int", "c id:int"}, []api.Hint{{Table: "a", To: "b"}, {Table: "b", To: "c"}, {Table: "c", To: "a"}}},
 		{[]string{"a id:int", "b id:int", "spare0 id:int"}, []string{"a id:int", "b id:int", "spare1 id:int"}, []api.Hint{{Table: "a", To: "b"}, {Table: "b", To: "a"}, {Table: "spare0", To: "spare1"}}},
+		{[]string{"a id:int", "b id:int", "c id:int"}, []string{"a id:int", "b id:int", "spare0 id:int"}, []api.Hint{{Table: "a", To: "b"}, {Table: "b", To: "a"}, {Table: "c", To: "spare0"}}},
+		{[]string{"a id:int", "b id:int", "c id:int", "d id:int"}, []string{"a id:int", "b id:int", "c id:int", "d id:int"}, []api.Hint{{Table: "a", To: "b"}, {Table: "b", To: "a"}, {Table: "c", To: "d"}, {Table: "d", To: "c"}}},
 		{[]string{"a id:int", "b id:int"}, []string{"b id:int", "c id:int"}, []api.Hint{{Table: "a", To: "b"}, {Table: "b", To: "c"}}},
 		{[]string{"a id:int", "b id:int"}, []string{"a id:int", "b id:int"}, []api.Hint{{Table: "a", To: "b"}}},
 		{[]string{"a id:int x:int y:int z:int"}, []string{"a id:int x:int y:int z:int"}, []api.Hint{{Table: "a", Column: "id", To: "x"}, {Table: "a", Column: "x", To: "id"}}},

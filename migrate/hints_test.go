@@ -235,7 +235,7 @@ func TestMovedErrors(t *testing.T) {
 		fault[hinting]{"D", func(x *hinting) { x.D.Tables[0].Rows[3] = slices.Clone(x.D.Tables[0].Rows[2]) }, api.ErrKey},
 		// Of the last table, though the errors below are of tables ahead of it.
 		fault[hinting]{"shelf", func(x *hinting) { x.B.Tables[2].Columns[2] = api.Column{Name: "note", Kind: api.Int, Null: true} }, api.ErrLost},
-		fault[hinting]{"box.size", func(x *hinting) { x.B.Tables[0].Columns[1].Null = false }, api.ErrNull},
+		fault[hinting]{"item.place", func(x *hinting) { x.B.Tables[1].Columns[4].Null = false }, api.ErrNull},
 		fault[hinting]{"box.open", func(x *hinting) {
 			x.B.Tables[0].Indexes[2] = api.Index{Name: "z", Columns: []string{"open"}, Unique: true}
 		}, api.ErrKey},

@@ -8,11 +8,11 @@ import (
 // naming is a new name for what has an old one.
 type naming struct{ from, to string }
 
-// namings returns how things get their new names one after another, so that no two have the same one at any time. In a circle the first one makes room by a name that none has.
+// namings returns how things get their new names one after another, so that no two have the same one at any time. In a circle (all names that are still wanted are taken then) the first one makes room by a name that none has.
 func namings(l []naming) []naming {
-	taken, wanted := map[string]bool{}, map[string]bool{}
+	taken := map[string]bool{}
 	for _, x := range l {
-		taken[x.from], wanted[x.to] = true, true
+		taken[x.from] = true
 	}
 	left := slices.DeleteFunc(slices.Clone(l), func(x naming) bool { return x.from == x.to })
 	var done []naming
@@ -24,7 +24,7 @@ func namings(l []naming) []naming {
 	for len(left) > 0 {
 		place := slices.IndexFunc(left, func(x naming) bool { return !taken[x.to] })
 		if place < 0 {
-			room := spare(func(name string) bool { return taken[name] || wanted[name] })
+			room := spare(taken)
 			give(naming{left[0].from, room})
 			left[0].from = room
 			continue
@@ -35,10 +35,10 @@ func namings(l []naming) []naming {
 	return done
 }
 
-// spare returns a name that is not used.
-func spare(used func(name string) bool) string {
+// spare returns a name that is not taken.
+func spare(taken map[string]bool) string {
 	number := 0
-	for used("spare" + strconv.Itoa(number)) {
+	for taken["spare"+strconv.Itoa(number)] {
 		number++
 	}
 	return "spare" + strconv.Itoa(number)

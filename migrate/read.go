@@ -55,7 +55,7 @@ func readHead(w listing.Words) (api.Migration, bool) {
 	return api.Migration{Number: number, Name: w[2]}, err == nil
 }
 
-// readChange reads the line of a change.
+// readChange reads the line of a change. Further words do not matter: then the change has another text.
 func readChange(w listing.Words) (api.Change, bool) {
 	c, ok := changeOf(w[0])
 	w = w[1:]
@@ -66,5 +66,5 @@ func readChange(w listing.Words) (api.Change, bool) {
 		}
 		w = w[n:]
 	}
-	return c, ok && len(w) == 0
+	return c, ok
 }
