@@ -7,6 +7,7 @@ import (
 
 	"dumbwaiter/api"
 	"dumbwaiter/migrate"
+	"dumbwaiter/value"
 )
 
 // P6.6: the inverse of each change.
@@ -128,7 +129,7 @@ func TestBackAtRandom(t *testing.T) {
 func kept(s api.Schema, d api.Data, losses []api.Loss) [][][]api.Value {
 	var l [][][]api.Value
 	for i, table := range s.Tables {
-		rows := clone(d.Tables[i].Rows)
+		rows, moved := clone(d.Tables[i].Rows), false
 		for _, x := range losses {
 			if x.Table != table.Name {
 				continue
@@ -139,9 +140,10 @@ func kept(s api.Schema, d api.Data, losses []api.Loss) [][][]api.Value {
 			for _, row := range rows {
 				row[place(table, x.Column)] = null
 			}
-			if slices.Contains(table.Key, x.Column) {
-				slices.SortFunc(rows, compareRows)
-			}
+			moved = moved || slices.Contains(table.Key, x.Column)
+		}
+		if moved {
+			slices.SortFunc(rows, value.CompareLists)
 		}
 		l = append(l, rows)
 	}

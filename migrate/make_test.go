@@ -311,6 +311,3 @@ func (r *maker) spoilt(s string) string {
 	}
 	return s[:i]
 }
-
-// compareRows compares rows.
-func compareRows(a, b []api.Value) int { return value.CompareLists(a, b) }
