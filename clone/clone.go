@@ -1,4 +1,4 @@
-// Package clone copies schemas, changes of them, and rows. A copy shares no memory with what it is of, and no two lists of it share memory.
+// Package clone copies models and worlds, schemas, changes of them, and rows. A copy shares no memory with what it is of, and no two lists of it share memory.
 package clone
 
 import (

@@ -5,6 +5,7 @@ import (
 
 	"dumbwaiter/api"
 	"dumbwaiter/clone"
+	"dumbwaiter/same"
 	"dumbwaiter/schema"
 )
 
@@ -29,7 +30,7 @@ func CheckChain(s api.Schema, l []api.Migration) api.Errno {
 		switch {
 		case err != api.OK:
 			return err
-		case !isSame(back, s):
+		case !same.Schema(back, s):
 			return api.ErrForm
 		}
 		s, before = after, m.Number
@@ -44,20 +45,6 @@ func checkNext(m api.Migration, before int) api.Errno {
 		return api.ErrOrder
 	}
 	return err
-}
-
-// isSame reports whether two schemas are equal.
-func isSame(a, b api.Schema) bool { return slices.EqualFunc(a.Tables, b.Tables, isSameTable) }
-
-// isSameTable reports whether two tables are equal.
-func isSameTable(a, b api.Table) bool {
-	return a.Name == b.Name && slices.Equal(a.Columns, b.Columns) && slices.Equal(a.Key, b.Key) &&
-		slices.EqualFunc(a.Foreigns, b.Foreigns, func(f, g api.Foreign) bool {
-			return f.Name == g.Name && f.Table == g.Table && slices.Equal(f.Columns, g.Columns)
-		}) &&
-		slices.EqualFunc(a.Indexes, b.Indexes, func(x, y api.Index) bool {
-			return x.Name == y.Name && x.Unique == y.Unique && slices.Equal(x.Columns, y.Columns)
-		})
 }
 
 // Join returns a chain in which some migrations are one.

@@ -5,6 +5,7 @@ import (
 	"strconv"
 
 	"dumbwaiter/api"
+	"dumbwaiter/same"
 	"dumbwaiter/store"
 )
 
@@ -26,7 +27,7 @@ func Status(db *store.Store) ([]api.Applied, api.Errno) {
 	if table.Name == "" {
 		return nil, api.OK
 	}
-	if !isSameTable(table, historyTable()) {
+	if !same.Table(table, historyTable()) {
 		return nil, api.ErrForm
 	}
 	t := db.Begin()
