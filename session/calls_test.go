@@ -454,9 +454,15 @@ func TestAll(t *testing.T) {
 	}
 	u.states(api.StateClean, api.StateClean, api.StateClean, api.StateFree, api.StateClean)
 	expect(t, u.all(l[1], "pets"), []int{})
+	// A pair to be added is to be written, too.
+	must(t, u.Link(l[0], "friends", l[0]))
+	_, err := u.All(ann, "pets")
+	want(t, err, api.ErrRef)
+	must(t, u.Unlink(l[0], "friends", l[0]))
+	expect(t, u.all(ann, "friends"), []int{bob})
 	// A flush can fail, or remove the object.
 	must(t, u.Set(rex, "name", text("Tom")))
-	_, err := u.All(bob, "pets")
+	_, err = u.All(bob, "pets")
 	want(t, err, api.ErrKey)
 	_, err = u.All(l[0], "pets")
 	want(t, err, api.ErrState)

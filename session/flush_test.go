@@ -22,8 +22,8 @@ func ids(t testing.TB, m api.Model, w api.World, entity string) []int {
 // P7.5, step 1: objects that are reached by relations with Cascade are saved, too.
 func TestCascade(t *testing.T) {
 	m := model(t,
-		"entity a", "one next a clear save", "one other a clear", "many prior a next", "many kids b up save", "many aunts b side", "pairs out b save", "pairs both a both save", "pairs from b to",
-		"entity b", "one up a clear", "one side a clear", "pairs to a from save", "pairs mere a",
+		"entity a", "one next a clear save", "one other a clear", "many kids b up save", "many aunts b side", "many nieces c side save", "pairs out b save", "pairs both a both save", "pairs from b to",
+		"entity b", "one up a clear", "one side a clear", "pairs to a from save", "pairs mere a", "entity c of b",
 	)
 	const free, clean = api.StateFree, api.StateClean
 	for _, x := range []struct {
@@ -34,6 +34,9 @@ func TestCascade(t *testing.T) {
 		{"one", func(u user) { must(u, u.Point(1, "next", 2), u.Point(2, "next", 3), u.Save(1)) }, []int{clean, clean, clean, free, free, free, free, free}},
 		{"from behind", func(u user) { must(u, u.Point(1, "next", 2), u.Save(2)) }, []int{free, clean, free, free, free, free, free, free}},
 		{"many", func(u user) { must(u, u.Point(5, "up", 1), u.Link(1, "kids", 6), u.Save(1)) }, []int{clean, free, free, free, clean, clean, free, free}},
+		{"many below", func(u user) {
+			must(u, u.Point(u.made("c", 1)[0], "side", 1), u.Point(5, "side", 2), u.Save(1), u.Save(2))
+		}, []int{clean, clean, free, free, free, free, free, free, clean}},
 		{"pairs", func(u user) { must(u, u.Link(1, "out", 5), u.Save(1)) }, []int{clean, free, free, free, clean, free, free, free}},
 		{"both", func(u user) { must(u, u.Link(2, "both", 1), u.Link(2, "both", 3), u.Save(1)) }, []int{clean, clean, clean, free, free, free, free, free}},
 		{"to", func(u user) { must(u, u.Link(1, "from", 5), u.Save(5)) }, []int{clean, free, free, free, clean, free, free, free}},

@@ -127,10 +127,8 @@ func (f *flush) runFor(x *item, when int) api.Errno {
 		}
 		e := f.entities[h.Entity]
 		for _, set := range h.Set {
+			// What fits the kind of the slot gives a value of this kind, or null.
 			v, _ := value.Eval(set, h.columns, e.row(x), nil)
-			if v.Kind != e.values[h.slot].Kind {
-				v = api.Value{}
-			}
 			x.set(h.slot, v)
 		}
 		for _, refuse := range h.Refuse {

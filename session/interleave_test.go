@@ -63,13 +63,16 @@ func TestWaysTogether(t *testing.T) {
 		for way := api.LoadLazy; way <= api.LoadEager; way++ {
 			db := storeOf(t, r.m, w)
 			l := parties(t, r.m, db, tenants, way, hooks)
+			var last turn
+			var err api.Errno
 			for i := range 150 {
 				if way == api.LoadLazy {
 					who := r.Intn(len(l))
-					turns = append(turns, turn{who, r.act(l[who])})
+					turns = append(turns, turn{who, r.next(l[who], last.act, err)})
 				}
 				x := turns[i]
 				out := l[x.who].play(x.act)
+				last, err = x, out.Error
 				if x.act.Kind == api.ActCommit && out.Error == api.OK {
 					worldOf(t, r.m, db)
 				}

@@ -84,26 +84,22 @@ func (s *Session) fetchLists(l []*object, relation string) (bool, api.Errno) {
 		return false, err
 	}
 	related := s.tables.related(x, owners)
-	found := s.foundIn(related)
+	var names []name
+	for _, owner := range owners {
+		names = append(names, related[owner]...)
+	}
+	found := s.stored(names)
 	for _, owner := range owners {
 		s.lists[listName{owner, relation}] = s.listOf(x, related[owner], found)
 	}
 	return true, api.OK
 }
 
-// foundIn returns the objects of the tables whose names are in some lists.
-func (s *Session) foundIn(lists map[name][]name) map[name]api.Object {
+// stored returns the objects of the tables with some names.
+func (s *Session) stored(names []name) map[name]api.Object {
+	slices.SortFunc(names, compareNames)
 	found := map[name]api.Object{}
-	var names []name
-	for _, l := range lists {
-		for _, n := range l {
-			if _, known := found[n]; !known {
-				found[n] = api.Object{}
-				names = append(names, n)
-			}
-		}
-	}
-	for _, x := range s.tables.objects(names) {
+	for _, x := range s.tables.objects(slices.Compact(names)) {
 		found[s.nameOf(x)] = x
 	}
 	return found
@@ -114,8 +110,8 @@ func (s *Session) listOf(x list, names []name, found map[name]api.Object) []api.
 	slices.SortFunc(names, compareNames)
 	var l []api.Object
 	for _, n := range slices.Compact(names) {
-		o := found[n]
-		if o.ID == 0 || !s.isSeen(o) || !s.entities[o.Entity].isOf(x.To) {
+		o, there := found[n]
+		if !there || !s.isSeen(o) || !s.entities[o.Entity].isOf(x.To) {
 			continue
 		}
 		l = append(l, o)
@@ -157,7 +153,7 @@ func (s *Session) follow(o *object, one int) (*object, api.Errno) {
 	return nil, api.OK
 }
 
-// give returns the handles of objects of the tables. Those in StateClean are as in the tables then.
+// give returns the handles of objects of the tables. None of them has changed since the last flush, so that all are as in the tables then.
 func (s *Session) give(l []api.Object) ([]int, api.Errno) {
 	fresh := 0
 	for _, x := range l {
@@ -170,12 +166,8 @@ func (s *Session) give(l []api.Object) ([]int, api.Errno) {
 	}
 	var handles []int
 	for _, x := range l {
-		o := s.loaded[s.nameOf(x)]
-		if o == nil || o.state == api.StateClean && !o.isChanged() {
-			s.adopt(x)
-			o = s.loaded[s.nameOf(x)]
-		}
-		h, _ := s.handle(o)
+		s.adopt(x)
+		h, _ := s.handle(s.loaded[s.nameOf(x)])
 		handles = append(handles, h)
 	}
 	return handles, api.OK

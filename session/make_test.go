@@ -142,6 +142,26 @@ type known interface {
 	tenantOf() int
 }
 
+// live counts the objects that are not in StatePast.
+func (r *maker) live(n known) int {
+	count := 0
+	for h := 1; h <= n.count(); h++ {
+		if n.stateOf(h) != api.StatePast {
+			count++
+		}
+	}
+	return count
+}
+
+// next makes an act behind one with an error: what cannot be flushed is often given up.
+func (r *maker) next(n known, before api.Act, err api.Errno) api.Act {
+	flushes := before.Kind == api.ActFlush || before.Kind == api.ActCommit || before.Kind == api.ActFind
+	if flushes && err != api.OK && err != api.ErrTenant && r.chance(3) {
+		return api.Act{Kind: api.ActRollback}
+	}
+	return r.act(n)
+}
+
 // handle makes a handle; usually one whose object is of an entity, if there is one, and in a state that is not StatePast.
 func (r *maker) handle(n known, entity string) int {
 	if r.chance(40) {
@@ -237,7 +257,10 @@ func (r *maker) inclusion(entity string) string {
 
 // act makes an act for what a session has.
 func (r *maker) act(n known) api.Act {
-	if n.count() < 3 {
+	if live := r.live(n); live < 3 || live < 8 && r.chance(4) {
+		if r.chance(2) {
+			return api.Act{Kind: api.ActFind, Find: []api.Find{all(r.entity())}}
+		}
 		return r.made(n)
 	}
 	h := r.handle(n, "")

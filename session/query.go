@@ -21,51 +21,66 @@ func (t *storeTables) find(f api.Find) []name {
 func (t *storeTables) related(x list, owners []name) map[name][]name {
 	family := owners[0].family
 	l := map[name][]name{}
-	add := func(owner int, to string, id, tenant int) {
-		n := t.nameIn(family, tenant, owner)
-		l[n] = append(l[n], t.nameIn(to, tenant, id))
+	read := func(table, column, other string) {
+		for _, row := range t.rowsWith(table, column, other, owners) {
+			owner, id, tenant := row[0].N, row[1].N, row[2].N
+			n := t.nameIn(family, tenant, owner)
+			l[n] = append(l[n], t.nameIn(x.To, tenant, id))
+		}
 	}
 	if x.Kind == api.RelMany {
 		table, column, _ := schema.Column(t.model, x.To, x.Back)
-		for _, row := range t.rowsWith(table, column, "id", owners) {
-			add(row[0].N, x.To, row[1].N, row[2].N)
-		}
-		return l
+		read(table, column, "id")
 	}
-	table := pairsTable(x.owner, x.name)
 	if x.forward {
-		for _, row := range t.rowsWith(table, "left_id", "right_id", owners) {
-			add(row[0].N, x.To, row[1].N, row[2].N)
-		}
+		read(pairsTable(x.owner, x.name), "left_id", "right_id")
 	}
 	if x.backward {
-		for _, row := range t.rowsWith(table, "right_id", "left_id", owners) {
-			add(row[0].N, x.To, row[1].N, row[2].N)
-		}
+		read(pairsTable(x.owner, x.name), "right_id", "left_id")
 	}
 	return l
 }
 
 // rowsWith returns, for each row of a table that has an id of some objects in a column, this id, the one in another column, and the tenant (null, if rows have none).
 func (t *storeTables) rowsWith(table, column, other string, owners []name) [][]api.Value {
-	named := func(name string) api.Expr { return api.Expr{Kind: api.XColumn, Source: "x", Name: name} }
-	tenant := api.Expr{Kind: api.XValue}
-	if t.column(t.table(table), "tenant") >= 0 {
+	tenant := literal(api.Value{})
+	isBound := t.column(t.table(table), "tenant") >= 0
+	if isBound {
 		tenant = named("tenant")
 	}
 	ids := []api.Expr{named(column)}
 	for _, n := range owners {
-		ids = append(ids, api.Expr{Kind: api.XValue, Value: number(n.id)})
+		ids = append(ids, literal(number(n.id)))
+		isBound = isBound && n.tenant != 0 && n.tenant == owners[0].tenant
 	}
 	where := api.Expr{Kind: api.XIn, Args: ids}
 	if len(owners) == 1 {
-		where = api.Expr{Kind: api.XOp, Op: api.OpEqual, Args: ids}
+		where = operation(api.OpEqual, ids...)
+	}
+	if isBound {
+		where = operation(api.OpAnd, operation(api.OpEqual, tenant, literal(number(owners[0].tenant))), where)
 	}
 	result, _ := sql.Run(t.reader, api.Statement{Kind: api.StSelect, Select: []api.Select{{
 		Items: []api.Item{{Name: "owner", Expr: named(column)}, {Name: "other", Expr: named(other)}, {Name: "tenant", Expr: tenant}},
-		From:  []api.Source{{Name: "x", Table: table}},
+		From:  []api.Source{{Name: source, Table: table}},
 		Where: []api.Expr{where},
 		Limit: -1,
 	}}}, nil)
 	return result.Rows
+}
+
+// source is the name of the table within a select.
+const source = "x"
+
+// named returns a column of the table.
+func named(column string) api.Expr {
+	return api.Expr{Kind: api.XColumn, Source: source, Name: column}
+}
+
+// literal returns an expression with a value.
+func literal(v api.Value) api.Expr { return api.Expr{Kind: api.XValue, Value: v} }
+
+// operation returns an expression with an operation.
+func operation(op int, args ...api.Expr) api.Expr {
+	return api.Expr{Kind: api.XOp, Op: op, Args: args}
 }

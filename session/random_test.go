@@ -23,10 +23,13 @@ type script struct {
 func (r *maker) script(w api.World, count int) script {
 	x := script{m: r.m, before: w, tenant: r.session(), hooks: r.hooks()}
 	n := x.naive(api.LoadLazy)
+	var a api.Act
+	var err api.Errno
 	for range count {
-		a := r.act(n)
-		x.acts = append(x.acts, a)
-		x.want = append(x.want, playNaive(n, a))
+		a = r.next(n, a, err)
+		out := playNaive(n, a)
+		x.acts, x.want = append(x.acts, a), append(x.want, out)
+		err = out.Error
 	}
 	x.after = n.kept
 	return x

@@ -395,6 +395,9 @@ func TestNoWorld(t *testing.T) {
 			must(t, x.Commit())
 			s, err := session.New(m, db, 0, 0, way, nil)
 			must(t, err)
+			for range 8 {
+				mustMake(t, s)
+			}
 			for _, e := range []string{"a", "b", "c", "d"} {
 				for id := range 4 {
 					s.Get(e, id-1)
@@ -405,9 +408,11 @@ func TestNoWorld(t *testing.T) {
 				}
 				s.Find(f, nil)
 			}
-			for h := 1; s.State(h) != 0; h++ {
+			for h := 9; s.State(h) != 0; h++ {
 				for _, r := range []string{"up", "to"} {
-					s.One(h, r)
+					if to, _ := s.One(h, r); to > 0 && to < 9 {
+						t.Error(i, "a row refers to an object that was made")
+					}
 					s.Value(h, r+".up.up")
 				}
 				for _, r := range []string{"downs", "p"} {
