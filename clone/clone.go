@@ -7,8 +7,11 @@ import (
 	"dumbwaiter/api"
 )
 
-// each returns the copies of the elements of a list.
+// each returns the copies of the elements of a list, nil for nil.
 func each[T any](l []T, copied func(x T) T) []T {
+	if l == nil {
+		return nil
+	}
 	c := make([]T, len(l))
 	for i, x := range l {
 		c[i] = copied(x)

@@ -7,18 +7,6 @@ import (
 	"dumbwaiter/session"
 )
 
-// ids are the ids of the objects of an entity in a store, and below it.
-func ids(t testing.TB, m api.Model, w api.World, entity string) []int {
-	t.Helper()
-	var l []int
-	for _, o := range w.Objects {
-		if o.Entity == entity {
-			l = append(l, o.ID)
-		}
-	}
-	return l
-}
-
 // P7.5, step 1: objects that are reached by relations with Cascade are saved, too.
 func TestCascade(t *testing.T) {
 	m := model(t,
@@ -370,7 +358,6 @@ func TestAtOnce(t *testing.T) {
 	w := worldOf(t, m, db)
 	expect(t, []api.Value{w.Objects[4].Values[0], w.Objects[5].Values[0]}, row(text("Tom"), text("Rex")))
 	expect(t, w.Pairs, []api.PairOf{{Entity: "person", Relation: "friends", Left: 1, Right: 2}, {Entity: "person", Relation: "friends", Left: 2, Right: 2}, {Entity: "worker", Relation: "keys", Left: 2, Right: 2}})
-	expect(t, ids(t, m, w, "pet"), []int{1, 2})
 }
 
 // P7.5: the errors in their order.

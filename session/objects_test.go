@@ -4,7 +4,6 @@ import (
 	"testing"
 
 	"dumbwaiter/api"
-	"dumbwaiter/schema"
 	"dumbwaiter/session"
 )
 
@@ -274,7 +273,4 @@ func TestMemory(t *testing.T) {
 	expect(t, u.find(f, params...), []int{ann})
 	expect(t, f, g)
 	expect(t, params, p)
-	if _, err := schema.Text(other); err != api.OK {
-		t.Error(err)
-	}
 }

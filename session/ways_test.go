@@ -215,3 +215,25 @@ func TestEager(t *testing.T) {
 	_, err := u.Find(api.Find{Entity: "person", Limit: -1, Include: []string{"x"}}, nil)
 	want(t, err, api.ErrName)
 }
+
+// P7.12: also many references and lists are loaded by one query.
+func TestLargeBatch(t *testing.T) {
+	m := model(t, "entity a tenant", "one up a clear", "many downs a up", "pairs both a both")
+	var w api.World
+	for i := range 3 * 1600 {
+		o := api.Object{Entity: "a", Tenant: 1 + i/1600, ID: 1 + i%1600, Ones: []int{1 + (i+1)%1600}}
+		w.Objects = append(w.Objects, o)
+		w.Pairs = append(w.Pairs, api.PairOf{Entity: "a", Relation: "both", Tenant: o.Tenant, Left: o.ID, Right: o.ID})
+	}
+	u := use(t, m, storeOf(t, m, w), api.LoadBatch)
+	l := u.find(all("a"))
+	expect(t, len(l), len(w.Objects))
+	u.costs(2, func() {
+		for i := 0; i < len(l); i += 97 {
+			next := i - i%1600 + (i+1)%1600
+			expect(t, u.one(l[i], "up"), l[next])
+			expect(t, u.all(l[next], "downs"), []int{l[i]})
+			expect(t, u.all(l[i], "both"), []int{l[i]})
+		}
+	})
+}
