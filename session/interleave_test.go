@@ -5,6 +5,7 @@ import (
 	"testing"
 
 	"dumbwaiter/api"
+	"dumbwaiter/query"
 	"dumbwaiter/schema"
 	"dumbwaiter/session"
 	"dumbwaiter/store"
@@ -31,6 +32,23 @@ func (p *party) play(a api.Act) api.Outcome {
 		p.entities = append(p.entities, o.Entity)
 	}
 	return out
+}
+
+// tryFinds checks, when a session has just committed, that finds give it the objects as they are in the tables.
+func (p *party) tryFinds(t *testing.T, m api.Model, w api.World) {
+	t.Helper()
+	for _, e := range m.Entities {
+		out := p.play(api.Act{Kind: api.ActFind, Find: []api.Find{all(e.Name)}})
+		refs, err := query.Objects(m, w, api.Find{Entity: e.Name, Limit: -1, Tenant: p.tenant}, nil)
+		must(t, out.Error, err)
+		expect(t, len(out.Handles), len(refs))
+		for i, h := range out.Handles {
+			o, err := p.Object(h)
+			must(t, err)
+			k := slices.IndexFunc(w.Objects, func(x api.Object) bool { return refs[i] == api.Ref{Entity: x.Entity, Tenant: x.Tenant, ID: x.ID} })
+			expect(t, o, w.Objects[k])
+		}
+	}
 }
 
 // turn is an act of one of several sessions.
@@ -74,7 +92,7 @@ func TestWaysTogether(t *testing.T) {
 				out := l[x.who].play(x.act)
 				last, err = x, out.Error
 				if x.act.Kind == api.ActCommit && out.Error == api.OK {
-					worldOf(t, r.m, db)
+					l[x.who].tryFinds(t, r.m, worldOf(t, r.m, db))
 				}
 				for h := range l[x.who].handles {
 					o, err := l[x.who].Object(h + 1)

@@ -299,6 +299,23 @@ func TestRefresh(t *testing.T) {
 	}
 }
 
+// P7.1, P7.10: an object that another session has removed is past when its id is used again.
+func TestUsedAgain(t *testing.T) {
+	u, v := two(t)
+	tom := u.get("pet", 2)
+	must(t, u.Commit(), v.Remove(v.get("pet", 2)), v.Commit())
+	pet := u.made("pet", 1)[0]
+	must(t, u.Set(tom, "name", text("x")), u.Set(tom, "name", text("Tom")), u.Save(pet), u.Flush())
+	expect(t, u.object(pet).ID, 2)
+	u.states(api.StatePast, api.StateClean)
+	expect(t, u.get("pet", 2), pet)
+	must(t, u.Commit())
+	// If another session has made it, it is the same object for this one, once it is found.
+	must(t, v.Remove(v.get("pet", 2)), v.Flush(), v.Save(v.made("pet", 1)[0]), v.Commit())
+	expect(t, u.value(pet, "version"), integer(1))
+	expect(t, u.find(api.Find{Entity: "pet", Where: where(t, "equal(:id,2)"), Limit: -1}), []int{pet})
+}
+
 // P7.10: of an object without versions only what has changed is written, of one with versions all.
 func TestMerge(t *testing.T) {
 	m := model(t, "entity a", "field x int", "field y int", "one up a clear", "one down a clear", "entity b of a", "field z int null", "entity c version", "field x int", "field y int")

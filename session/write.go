@@ -205,7 +205,11 @@ func (f *flush) settle() {
 		switch {
 		case x.goes():
 		case x.isNew:
-			f.loaded[f.nameOf(x.now)] = x.of
+			n := f.nameOf(x.now)
+			if other := f.loaded[n]; other != nil {
+				other.end() // another session has removed it: its id was free
+			}
+			f.loaded[n] = x.of
 			x.of.be(x.now)
 		case x.of != nil && (x.differs() || x.of.isChanged()):
 			x.of.be(x.now)
