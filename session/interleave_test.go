@@ -92,8 +92,12 @@ func TestWaysTogether(t *testing.T) {
 				out := l[x.who].play(x.act)
 				last, err = x, out.Error
 				if x.act.Kind == api.ActCommit && out.Error == api.OK {
-					l[x.who].tryFinds(t, r.m, worldOf(t, r.m, db))
+					now := worldOf(t, r.m, db)
+					if i%5 == 0 {
+						l[x.who].tryFinds(t, r.m, now)
+					}
 				}
+				out.Handles = append(out.Handles, db.Commits())
 				for h := range l[x.who].handles {
 					o, err := l[x.who].Object(h + 1)
 					out.Handles = append(out.Handles, l[x.who].State(h+1), int(err), o.ID, o.Version)

@@ -142,7 +142,12 @@ func (s *Session) count(made bool) {
 
 // follow returns the object to which another one refers by the RelOne at a place; nil if there is none.
 func (s *Session) follow(o *object, one int) (*object, api.Errno) {
-	made, err := s.fetchOnes(s.mates(o), s.entityOf(o).ones[one].Name)
+	l := []*object{o}
+	// What is missing for others alone does not begin a transaction: it would see another moment than with other ways to load.
+	if s.open || o.now.Ones[one] != 0 && !s.isLoaded(s.target(o.now, one)) {
+		l = s.mates(o)
+	}
+	made, err := s.fetchOnes(l, s.entityOf(o).ones[one].Name)
 	if err != api.OK {
 		return nil, err
 	}

@@ -55,6 +55,7 @@ type naive struct {
 	relationsOf map[string]map[string]api.Relation
 	linesOf     map[string][]string
 	statements  int
+	open        bool // a transaction has begun
 	loaded      map[nameOf]bool
 	lists       map[keptList]bool
 }
@@ -103,7 +104,7 @@ func (n *naive) tenantOf() int { return n.tenant }
 // read makes a world what the transaction sees.
 func (n *naive) read(w api.World) {
 	n.things, n.pairs, n.linked = nil, map[couple]bool{}, map[couple]bool{}
-	n.loaded, n.lists = map[nameOf]bool{}, map[keptList]bool{}
+	n.loaded, n.lists, n.open = map[nameOf]bool{}, map[keptList]bool{}, false
 	for _, o := range w.Objects {
 		n.things = append(n.things, &thing{entity: o.Entity, tenant: o.Tenant, id: o.ID, version: o.Version, gone: o.Gone, values: slices.Clone(o.Values)})
 	}
@@ -548,6 +549,7 @@ func (n *naive) query(l []nameOf) {
 	}
 	if asked {
 		n.statements++
+		n.open = true
 	}
 }
 
@@ -566,14 +568,18 @@ func (n *naive) group(x *thing) []*thing {
 
 // follow returns the thing to which a reference leads.
 func (n *naive) follow(x *thing, relation string) *thing {
+	to := x.ones[onePlace(n.onesOf(x.entity), relation)]
+	group := []*thing{x}
+	if n.open || to != nil && to.stored != nil && !n.loaded[n.name(to)] {
+		group = n.group(x)
+	}
 	var l []nameOf
-	for _, y := range n.group(x) {
+	for _, y := range group {
 		if i := onePlace(n.onesOf(y.entity), relation); i >= 0 && y.ones[i] != nil && y.ones[i].stored != nil {
 			l = append(l, n.name(y.ones[i]))
 		}
 	}
 	n.query(l)
-	to := x.ones[onePlace(n.onesOf(x.entity), relation)]
 	if !n.isSeen(to) {
 		return nil
 	}
@@ -613,6 +619,7 @@ func (n *naive) findAll(f api.Find, params []api.Value) api.Outcome {
 	if n.tenant != 0 {
 		f.Tenant = n.tenant
 	}
+	n.open = true
 	refs, err := query.Objects(n.m, n.world(), f, params)
 	var l []*thing
 	for _, r := range refs {
@@ -742,6 +749,7 @@ func (n *naive) all(x *thing, relation string) api.Outcome {
 	if x.state == api.StateFree || x.state == api.StateRemoved {
 		return api.Outcome{Error: api.ErrState}
 	}
+	n.askPairs()
 	if n.isDirty() {
 		if err := n.flush(); err != api.OK {
 			return api.Outcome{Error: err}
@@ -760,6 +768,7 @@ func (n *naive) all(x *thing, relation string) api.Outcome {
 	}
 	if asked {
 		n.statements++
+		n.open = true
 	}
 	return n.giveAll(n.related(x, relation))
 }

@@ -115,24 +115,44 @@ func (n *naive) copy() *naive {
 
 // flush writes everything. What fails is done with a copy, so that nothing has changed.
 func (n *naive) flush() api.Errno {
+	asks := func(x *thing) bool { return x.held || x.isChanged() || x.state == api.StateRemoved }
+	n.open = n.open || slices.ContainsFunc(n.handles, asks)
+	c := n.copy()
+	if c.stepOne(); c.lacks() {
+		return api.ErrRef
+	}
+	n.askPairs()
+	n.open = n.open || n.isDirty()
 	if err := n.copy().flushed(); err != api.OK {
 		return err
 	}
 	return n.flushed()
 }
 
-func (n *naive) flushed() api.Errno {
-	n.stepOne()
+// lacks reports whether something refers to an object in StateFree.
+func (n *naive) lacks() bool {
 	for _, x := range n.things {
 		if x.isAlive() && slices.ContainsFunc(x.ones, func(to *thing) bool { return to != nil && to.state == api.StateFree }) {
-			return api.ErrRef
+			return true
 		}
 	}
 	for p, add := range n.linked {
 		if add && (p.left.state == api.StateFree || p.right.state == api.StateFree) {
-			return api.ErrRef
+			return true
 		}
 	}
+	return false
+}
+
+// askPairs begins a transaction if there are pairs of which must be known whether they are there.
+func (n *naive) askPairs() {
+	for p := range n.linked {
+		n.open = n.open || p.left.stored != nil && p.right.stored != nil
+	}
+}
+
+func (n *naive) flushed() api.Errno {
+	n.stepOne()
 	whole := map[*thing]bool{}
 	if err := n.stepThree(whole); err != api.OK {
 		return err
@@ -278,6 +298,42 @@ func (n *naive) stepSix(whole map[*thing]bool) {
 
 // stepSeven makes the result the tables, and brings the session up to it.
 func (n *naive) stepSeven(whole map[*thing]bool) api.Errno {
+	n.writePairs(whole)
+	n.things = slices.DeleteFunc(n.things, func(x *thing) bool { return whole[x] })
+	for x := range whole {
+		// An id can be that of a new object, too.
+		delete(n.loaded, n.name(x))
+	}
+	for _, x := range n.things {
+		n.write(x)
+	}
+	if err := schema.CheckWorld(n.m, n.world()); err != api.OK {
+		return err
+	}
+	for _, x := range n.things {
+		for i, to := range x.ones {
+			if x.state == api.StateFree && to != nil && (whole[to] || to.state == api.StateRemoved) {
+				x.ones[i] = nil
+			}
+		}
+	}
+	for x := range whole {
+		x.state = api.StatePast
+	}
+	for _, x := range slices.Clone(n.things) {
+		if x.state == api.StateRemoved {
+			delete(n.loaded, n.name(x))
+			n.leave(x)
+		}
+	}
+	for _, x := range n.handles {
+		x.held = false
+	}
+	return api.OK
+}
+
+// writePairs adds and removes pairs.
+func (n *naive) writePairs(whole map[*thing]bool) {
 	for p, add := range n.linked {
 		for _, q := range n.same(p) {
 			delete(n.pairs, q)
@@ -288,81 +344,51 @@ func (n *naive) stepSeven(whole map[*thing]bool) api.Errno {
 	}
 	maps.DeleteFunc(n.pairs, func(p couple, _ bool) bool { return whole[p.left] || whole[p.right] })
 	n.linked = map[couple]bool{}
-	n.things = slices.DeleteFunc(n.things, func(x *thing) bool { return whole[x] })
-	for _, x := range n.things {
-		if x.state == api.StateRemoved {
-			for i, to := range x.ones {
-				if to != nil && to.state == api.StateFree {
-					x.ones[i] = nil
-				}
+}
+
+// write makes a thing that differs from the tables what stands there.
+func (n *naive) write(x *thing) {
+	if x.state == api.StateFree || !x.isWritten() {
+		return
+	}
+	for i, to := range x.ones {
+		if to != nil && to.state == api.StateFree {
+			x.ones[i] = nil // x is removed: otherwise there would have been an error
+		}
+	}
+	x.store()
+	if x.state != api.StateRemoved {
+		n.loaded[n.name(x)] = true
+	}
+	if x.state == api.StateNew {
+		x.state = api.StateClean
+	}
+}
+
+// leave puts a thing that is gone in StatePast: what stands in the tables is another object, if it is read again.
+func (n *naive) leave(x *thing) {
+	again := *x
+	again.handle, again.state, again.find = 0, 0, nil
+	other := func(y *thing) *thing {
+		if y == x {
+			return &again
+		}
+		return y
+	}
+	for i, y := range n.things {
+		n.things[i] = other(y)
+		for _, l := range [][]*thing{y.ones, storedOnes(y), again.ones, storedOnes(&again)} {
+			for k, to := range l {
+				l[k] = other(to)
 			}
 		}
 	}
-	for x := range whole {
-		// An id can be that of a new object, too.
-		delete(n.loaded, n.name(x))
+	pairs := map[couple]bool{}
+	for p, there := range n.pairs {
+		pairs[couple{p.entity, p.relation, other(p.left), other(p.right)}] = there
 	}
-	for _, x := range n.things {
-		if x.state != api.StateFree && x.isWritten() {
-			if x.state != api.StateRemoved {
-				n.loaded[n.name(x)] = true
-			}
-			x.store()
-			if x.state == api.StateNew {
-				x.state = api.StateClean
-			}
-		}
-	}
-	if err := schema.CheckWorld(n.m, n.world()); err != api.OK {
-		return err
-	}
-	went := func(x *thing) bool { return x != nil && (whole[x] || x.state == api.StateRemoved) }
-	for _, x := range n.things {
-		for i, to := range x.ones {
-			if x.state == api.StateFree && went(to) {
-				x.ones[i] = nil
-			}
-		}
-	}
-	for x := range whole {
-		x.state = api.StatePast
-	}
-	for i, x := range n.things {
-		if x.state == api.StateRemoved {
-			delete(n.loaded, n.name(x))
-			// What is gone is another object, if it is read again.
-			again := *x
-			again.handle, again.state, again.find = 0, 0, nil
-			n.things[i] = &again
-			for _, y := range n.things {
-				for _, l := range [][]*thing{y.ones, storedOnes(y)} {
-					for k, to := range l {
-						if to == x {
-							l[k] = &again
-						}
-					}
-				}
-			}
-			for p := range maps.Clone(n.pairs) {
-				if p.left == x || p.right == x {
-					delete(n.pairs, p)
-					q := p
-					if q.left == x {
-						q.left = &again
-					}
-					if q.right == x {
-						q.right = &again
-					}
-					n.pairs[q] = true
-				}
-			}
-			x.state = api.StatePast
-		}
-	}
-	for _, x := range n.handles {
-		x.held = false
-	}
-	return api.OK
+	n.pairs = pairs
+	x.state = api.StatePast
 }
 
 func storedOnes(x *thing) []*thing {
@@ -376,7 +402,7 @@ func (n *naive) commit() api.Errno {
 	if err := n.flush(); err != api.OK {
 		return err
 	}
-	n.kept = n.world()
+	n.kept, n.open = n.world(), false
 	n.lists = map[keptList]bool{}
 	for _, x := range n.things {
 		if x.handle == 0 {

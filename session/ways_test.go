@@ -151,8 +151,19 @@ func TestBatch(t *testing.T) {
 	u.costs(1, func() { expect(t, u.one(l[4], "house"), 0) })
 	u.costs(0, func() { u.one(l[0], "house") })
 	must(t, u.Commit())
-	u.costs(1, func() { u.one(l[0], "house") })
-	u.costs(0, func() { u.one(l[1], "house") })
+	u.costs(1, func() { u.one(l[1], "house") })
+	u.costs(0, func() { u.one(l[0], "house"); u.value(l[3], "house") })
+
+	// But it does not begin a transaction alone.
+	before := u.db.Commits()
+	must(t, u.Commit(), u.Set(l[0], "name", null), u.Commit())
+	expect(t, u.db.Commits(), before+1)
+	u.costs(0, func() { u.one(l[4], "house"); u.one(l[0], "house") })
+	must(t, u.Commit())
+	expect(t, u.db.Commits(), before+1)
+	u.costs(1, func() { u.value(l[3], "house.name") })
+	must(t, u.Commit())
+	expect(t, u.db.Commits(), before+2)
 
 	// The last find of an object counts, without what was removed since.
 	u = settle(t, api.LoadBatch)
