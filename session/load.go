@@ -84,33 +84,43 @@ func (s *Session) fetchLists(l []*object, relation string) (bool, api.Errno) {
 		return false, err
 	}
 	related := s.tables.related(x, owners)
-	var names []name
+	names := slices.Clone(owners)
 	for _, owner := range owners {
 		names = append(names, related[owner]...)
 	}
-	found := s.stored(names)
+	stored := s.stored(names)
 	for _, owner := range owners {
-		s.lists[listName{owner, relation}] = s.listOf(x, related[owner], found)
+		var l []api.Object
+		// Another session can have removed it.
+		if o, there := stored[owner]; there && s.isSeen(o) {
+			l = s.listOf(x, related[owner], stored)
+		}
+		s.lists[listName{owner, relation}] = l
 	}
 	return true, api.OK
 }
 
 // stored returns the objects of the tables with some names.
 func (s *Session) stored(names []name) map[name]api.Object {
-	slices.SortFunc(names, compareNames)
-	found := map[name]api.Object{}
-	for _, x := range s.tables.objects(slices.Compact(names)) {
-		found[s.nameOf(x)] = x
+	l := map[name]api.Object{}
+	known := map[name]bool{}
+	names = slices.DeleteFunc(names, func(n name) bool {
+		again := known[n]
+		known[n] = true
+		return again
+	})
+	for _, x := range s.tables.objects(names) {
+		l[s.nameOf(x)] = x
 	}
-	return found
+	return l
 }
 
 // listOf returns those objects of a list that the relation can have and the session sees, sorted. They are loaded then.
-func (s *Session) listOf(x list, names []name, found map[name]api.Object) []api.Object {
+func (s *Session) listOf(x list, names []name, stored map[name]api.Object) []api.Object {
 	slices.SortFunc(names, compareNames)
 	var l []api.Object
 	for _, n := range slices.Compact(names) {
-		o, there := found[n]
+		o, there := stored[n]
 		if !there || !s.isSeen(o) || !s.entities[o.Entity].isOf(x.To) {
 			continue
 		}

@@ -316,6 +316,27 @@ func TestUsedAgain(t *testing.T) {
 	expect(t, u.find(api.Find{Entity: "pet", Where: where(t, "equal(:id,2)"), Limit: -1}), []int{pet})
 }
 
+// P7.8: what another session has removed has no lists, and stands in none. (That it is loaded stays so.)
+func TestListsOfLost(t *testing.T) {
+	for _, way := range []int{api.LoadLazy, api.LoadBatch} {
+		u := use(t, zoo(t), storeOf(t, zoo(t), family()), way)
+		v := use(t, zoo(t), u.db, api.LoadLazy)
+		oak, ann := u.find(all("house"))[0], u.find(all("person"))[0]
+		expect(t, []int{len(u.all(oak, "workers")), len(u.all(oak, "holders")), len(u.all(ann, "pets"))}, []int{1, 1, 2})
+		bob := u.get("person", 2)
+		must(t, u.Commit(), v.Remove(v.get("house", 1)), v.Flush(), v.Remove(v.get("person", 1)), v.Commit())
+		expect(t, u.all(oak, "workers"), []int{})
+		expect(t, u.all(oak, "holders"), []int{})
+		expect(t, u.all(bob, "keys"), []int{})
+		expect(t, u.all(ann, "pets"), []int{})
+		expect(t, u.all(ann, "friends"), []int{})
+		expect(t, u.all(bob, "friends"), []int{})
+		expect(t, u.value(oak, "street"), text("oak"))
+		expect(t, u.one(bob, "house"), oak)
+		expect(t, u.one(bob, "mate"), ann)
+	}
+}
+
 // P7.10: of an object without versions only what has changed is written, of one with versions all.
 func TestMerge(t *testing.T) {
 	m := model(t, "entity a", "field x int", "field y int", "one up a clear", "one down a clear", "entity b of a", "field z int null", "entity c version", "field x int", "field y int")
