@@ -45,7 +45,10 @@ func Object(o api.Object) api.Object {
 	return o
 }
 
+// Objects copies objects.
+func Objects(l []api.Object) []api.Object { return each(l, Object) }
+
 // World copies a world.
 func World(w api.World) api.World {
-	return api.World{Objects: each(w.Objects, Object), Pairs: slices.Clone(w.Pairs)}
+	return api.World{Objects: Objects(w.Objects), Pairs: slices.Clone(w.Pairs)}
 }

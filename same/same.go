@@ -1,4 +1,4 @@
-// Package same says whether expressions, what they are part of, and schemas are equal in all fields. (Lists without elements are equal, also nil ones.)
+// Package same says whether expressions, what they are part of, schemas, objects and rows are equal in all fields. (Lists without elements are equal, also nil ones.)
 package same
 
 import (

@@ -4,6 +4,7 @@ import (
 	"slices"
 
 	"dumbwaiter/api"
+	"dumbwaiter/parts"
 	"dumbwaiter/same"
 )
 
@@ -91,15 +92,15 @@ func (x *selectCheck) rows() api.Errno {
 
 // result returns the kind of an expression of Items, Having or Order.
 func (x *selectCheck) result(e api.Expr, windows bool) (int, api.Errno) {
-	if x.grouped && x.isLoose(part{expr: &e}, false) {
+	if x.grouped && x.isLoose(parts.Part{Expr: &e}, false) {
 		return 0, api.ErrState
 	}
 	return x.kindOf(e, spot{scope: x.scope, aggregates: true, windows: windows && !x.grouped})
 }
 
 // isLoose reports whether an own column stands in a part of a grouped select neither within an XAgg of the select nor within an element of Group. nested says whether the part stands within a further select, whose XAggs are not those of this one.
-func (x *selectCheck) isLoose(p part, nested bool) bool {
-	if e := p.expr; e != nil {
+func (x *selectCheck) isLoose(p parts.Part, nested bool) bool {
+	if e := p.Expr; e != nil {
 		switch {
 		case slices.ContainsFunc(x.q.Group, func(y api.Expr) bool { return same.Expr(*e, y) }):
 			return false
@@ -110,7 +111,7 @@ func (x *selectCheck) isLoose(p part, nested bool) bool {
 		}
 	}
 	loose := false
-	p.inner(func(q part) { loose = loose || x.isLoose(q, nested || q.query != nil) })
+	p.Inner(func(q parts.Part) { loose = loose || x.isLoose(q, nested || q.Query != nil) })
 	return loose
 }
 

@@ -5,6 +5,7 @@ import (
 	"strings"
 
 	"dumbwaiter/api"
+	"dumbwaiter/parts"
 )
 
 // Plan returns how the sources of a statement are read.
@@ -128,8 +129,8 @@ func boundsOf(source string, where []api.Expr) map[string]api.Expr {
 // isConstant reports whether an expression is a constant.
 func isConstant(e api.Expr) bool {
 	constant := true
-	part{expr: &e}.walk(func(p part) bool {
-		if p.expr == nil || p.expr.Kind < api.XValue || p.expr.Kind > api.XIn || p.expr.Kind == api.XColumn {
+	parts.Part{Expr: &e}.Walk(func(p parts.Part) bool {
+		if p.Expr == nil || p.Expr.Kind < api.XValue || p.Expr.Kind > api.XIn || p.Expr.Kind == api.XColumn {
 			constant = false
 		}
 		return constant

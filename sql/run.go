@@ -2,6 +2,7 @@ package sql
 
 import (
 	"dumbwaiter/api"
+	"dumbwaiter/parts"
 	"dumbwaiter/store"
 )
 
@@ -70,21 +71,21 @@ func (x *execution) read(st api.Statement) map[string][][]api.Value {
 		given[a.Source] = x.accessed(a)
 		x.count += len(given[a.Source])
 	}
-	outermost(st, func(p part) {
-		p.inner(func(q part) {
-			if p.query != nil && q.source != nil && q.source.Table != "" {
+	parts.Outermost(st, func(p parts.Part) {
+		p.Inner(func(q parts.Part) {
+			if p.Query != nil && q.Source != nil && q.Source.Table != "" {
 				return // it has an Access
 			}
-			q.walk(x.readWhole)
+			q.Walk(x.readWhole)
 		})
 	})
 	return given
 }
 
 // readWhole reads all rows of a table that is a source. It wants to see all parts.
-func (x *execution) readWhole(p part) bool {
-	if p.source != nil && p.source.Table != "" {
-		x.count += len(x.scan(p.source.Table))
+func (x *execution) readWhole(p parts.Part) bool {
+	if p.Source != nil && p.Source.Table != "" {
+		x.count += len(x.scan(p.Source.Table))
 	}
 	return true
 }

@@ -4,6 +4,7 @@ import (
 	"slices"
 
 	"dumbwaiter/api"
+	"dumbwaiter/parts"
 	"dumbwaiter/value"
 )
 
@@ -57,9 +58,9 @@ func (l *layer) isOnly(e api.Expr, source int) bool {
 // placesIn returns the place of the source of each column in an expression, -1 for sources of other selects.
 func (l *layer) placesIn(e api.Expr) []int {
 	var places []int
-	part{expr: &e}.walk(func(p part) bool {
-		if p.expr != nil && p.expr.Kind == api.XColumn {
-			places = append(places, sourcePlace(l.sources, p.expr.Source))
+	parts.Part{Expr: &e}.Walk(func(p parts.Part) bool {
+		if p.Expr != nil && p.Expr.Kind == api.XColumn {
+			places = append(places, sourcePlace(l.sources, p.Expr.Source))
 		}
 		return true
 	})
