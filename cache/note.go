@@ -119,17 +119,31 @@ func Tags(m api.Model, f api.Find) ([]api.Tag, api.Errno) {
 	l := []api.Tag{families[f.Entity].tag(f.Tenant)}
 	query.Paths(m, f, func(entity, path string) {
 		for _, relation := range strings.Split(path, ".") {
-			// One at a time: a path to a value can have one more than an inclusion.
-			steps, _ := query.Steps(m, entity, []string{relation})
-			x := steps[0]
+			has, x := relationOf(m, entity, relation)
 			l = append(l, families[x.To].tag(f.Tenant))
-			if owner, name, err := schema.Owner(m, x.Entity, relation); err == api.OK {
+			if x.Kind == api.RelPairs {
+				owner, name, _ := schema.Owner(m, has, relation)
 				l = append(l, api.Tag{Entity: owner, Relation: name, Tenant: families[owner].tenantOf(f.Tenant)})
 			}
 			entity = x.To
 		}
 	})
 	return sorted(l), api.OK
+}
+
+// relationOf returns the relation with a name that an entity has, and the entity that has it itself: this one, or one that it is below.
+func relationOf(m api.Model, entity, name string) (string, api.Relation) {
+	// What an entity is below stands ahead of it.
+	for _, e := range slices.Backward(m.Entities) {
+		if e.Name != entity {
+			continue
+		}
+		if i := slices.IndexFunc(e.Relations, func(r api.Relation) bool { return r.Name == name }); i >= 0 {
+			return entity, e.Relations[i]
+		}
+		entity = e.Parent
+	}
+	return "", api.Relation{}
 }
 
 // withoutParams returns conditions in which null, which fits everywhere, stands for the parameters.
