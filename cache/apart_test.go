@@ -132,9 +132,9 @@ func TestTenantsApart(t *testing.T) {
 		for range 4 {
 			other = r.next(other, 1+(tenant+r.Intn(tenants-1))%tenants, 6)
 		}
-		same3, err := cache.Part(r.m, other, tenant)
+		otherPart, err := cache.Part(r.m, other, tenant)
 		must(t, err)
-		expect(t, same3, part)
+		expect(t, otherPart, part)
 		worlds := []api.World{w, part, other}
 		var parties []*party
 		for _, w := range worlds {

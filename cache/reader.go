@@ -20,18 +20,15 @@ type Reader struct {
 	db          *store.Store
 	cache       *Cache
 	tenant, now int
-	reads       *session.Session // by which is read
 	queries     int
 }
 
 // NewReader returns a reader.
 func NewReader(m api.Model, db *store.Store, c *Cache, tenant, now int) (*Reader, api.Errno) {
 	r := &Reader{model: clone.Model(m), db: db, cache: c, tenant: tenant, now: now}
-	s, err := r.session()
-	if err != api.OK {
+	if _, err := r.session(); err != api.OK {
 		return nil, err
 	}
-	r.reads = s
 	return r, api.OK
 }
 
@@ -112,27 +109,14 @@ func (r *Reader) checkFind(f api.Find, params []api.Value) api.Errno {
 	return api.OK
 }
 
-// read returns the objects of the handles that a session gives.
+// read returns the objects of the handles that a new session gives.
 func (r *Reader) read(ask func(s *session.Session) ([]int, api.Errno)) ([]api.Object, api.Errno) {
-	l, err := readBy(r.reads, ask)
-	if err == api.ErrLarge {
-		// It has given most of its handles: a new one has enough for each find.
-		s, failed := r.session()
-		if failed != api.OK {
-			return nil, failed
-		}
-		r.reads = s
-		l, err = readBy(s, ask)
+	s, err := r.session()
+	if err != api.OK {
+		return nil, err
 	}
-	if err == api.OK || err == api.ErrNone {
-		r.queries++
-	}
-	return l, err
-}
-
-// readBy returns the objects of the handles that a session gives, which is to have seen nothing before and behind that.
-func readBy(s *session.Session, ask func(s *session.Session) ([]int, api.Errno)) ([]api.Object, api.Errno) {
 	defer s.Rollback()
+	r.queries++
 	handles, err := ask(s)
 	if err != api.OK {
 		return nil, err

@@ -298,35 +298,24 @@ func TestKeptFinds(t *testing.T) {
 	read(all("note"), nil, 1, 4+1+2)
 }
 
-// P8.8: a reader reads as often, and as much, as is asked.
+// P8.8: a reader reads as much, and as often, as is asked.
 func TestManyReads(t *testing.T) {
 	m := library(t)
 	var w api.World
-	for id := range 2000 {
+	for id := range api.MaxObjects {
 		w.Objects = append(w.Objects, book(id+1, 1, id, "x"))
 	}
-	w.Objects[0].Ones[0] = 0
 	db := storeOf(t, m, w)
 	r, _ := reader(t, m, db, 0)
-	for n := range 7 {
+	for n := range 3 {
 		l, err := r.Find(all("book"), nil, true)
 		must(t, err)
 		expect(t, l, w.Objects)
-		expect(t, r.Queries(), n+1)
-	}
-	for n := range 6000 {
-		o, err := r.Get("book", 1+n%2000, true)
+		o, err := r.Get("book", api.MaxObjects, true)
 		must(t, err)
-		if !same(o, w.Objects[n%2000]) {
-			t.Fatal(n, o)
-		}
+		expect(t, o, w.Objects[api.MaxObjects-1])
+		expect(t, r.Queries(), 2*n+2)
 	}
-	expect(t, r.Queries(), 6007)
-	// What has changed since is seen, as nothing stays open.
-	change(t, m, db, rename(one(t, "book", 0, 5), "name", "y")...)
-	o, err := r.Get("book", 5, true)
-	must(t, err)
-	expect(t, o.Values, row(text("y")))
 }
 
 // P8.8: the errors of Find in their order, whether the cache has a list or not.

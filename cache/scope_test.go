@@ -15,7 +15,7 @@ import (
 // short writes names without quotes.
 func short(s string) string { return strings.ReplaceAll(s, `"`, "") }
 
-// quoted quotes the words of a text that are followed by a point, or stand behind one, as or into: those that are names.
+// quoted quotes the names in a statement: all words outside of Texts but those of the language.
 func quoted(s string) string {
 	var b strings.Builder
 	for i, part := range strings.Split(s, "'") {
@@ -31,7 +31,7 @@ func quoted(s string) string {
 	return b.String()
 }
 
-// quotedNames quotes the names in a text without Texts: all words but those of the language.
+// quotedNames is quoted for what has no Texts.
 func quotedNames(s string) string {
 	words := strings.Fields("select distinct from as join left on where group by having order desc nulls last limit offset and or not is null in exists count sum min max row_number over partition insert into values update set delete case when then else end coalesce true false")
 	var b strings.Builder
@@ -80,7 +80,7 @@ func TestScope(t *testing.T) {
 		// Inserts get the column.
 		{"insert into note_about (left_id, right_id) values (1, 2), (1, 3)", "insert into note_about (left_id, right_id, tenant) values (1, 2, 7), (1, 3, 7)"},
 		{"insert into note (id, body, version) values (1, 'it', (select count(*) as x from note as o))", "insert into note (id, body, version, tenant) values (1, 'it', (select count(*) as x from note as o where (o.tenant = 7)), 7)"},
-		{"insert into note_about (left_id, right_id) select n.id as left, b.id as right from note as n join book as b on true", "insert into note_about (left_id, right_id, tenant) select n.id as left, b.id as right, 7 as tenant from note as n join book as b on true where (n.tenant = 7)"},
+		{"insert into note_about (left_id, right_id) select n.id as l, b.id as r from note as n join book as b on true", "insert into note_about (left_id, right_id, tenant) select n.id as l, b.id as r, 7 as tenant from note as n join book as b on true where (n.tenant = 7)"},
 		{"insert into note_about (left_id, right_id) select distinct 1 as tenant, b.id as tenant0 from book as b", "insert into note_about (left_id, right_id, tenant) select distinct 1 as tenant, b.id as tenant0, 7 as tenant1 from book as b"},
 		// Updates and deletes concern rows of the tenant.
 		{"update note as n set body = 'x'", "update note as n set body = 'x' where (n.tenant = 7)"},
@@ -88,8 +88,7 @@ func TestScope(t *testing.T) {
 		{"delete from note_likes as l", "delete from note_likes as l where (l.tenant = 7)"},
 		{"delete from memo as l where exists (select 1 as x from note as o where (o.id = l.id))", "delete from memo as l where ((l.tenant = 7) and exists (select 1 as x from note as o where ((o.tenant = 7) and (o.id = l.id))))"},
 	} {
-		s := quoted(strings.ReplaceAll(strings.ReplaceAll(x[0], "as left,", "as left_,"), "as right ", "as right_ "))
-		st := parse(t, m, s)
+		st := parse(t, m, quoted(x[0]))
 		before := clone(st)
 		got, err := cache.Scope(m, st, 7)
 		must(t, err)
@@ -99,7 +98,6 @@ func TestScope(t *testing.T) {
 		if wanted == "" {
 			wanted = x[0]
 		}
-		wanted = strings.ReplaceAll(strings.ReplaceAll(wanted, "as left,", "as left_,"), "as right,", "as right_,")
 		printed, err := sql.Print(tables(t, m), got, api.DialectPlain)
 		must(t, err)
 		expect(t, short(printed), wanted)
@@ -185,7 +183,7 @@ func TestErrorsOfScope(t *testing.T) {
 	want(t, check(args{m, st, 1}), api.ErrTenant)
 }
 
-// parts is the number of parts of a statement, as P4.1 counts them, and how many of them are within one another.
+// partsOf is the number of parts of a statement, as P4.1 counts them, and how many of them are within one another.
 func partsOf(st api.Statement) (count, levels int) {
 	var exprs func(l []api.Expr, level int)
 	var query func(q api.Select, level int)
