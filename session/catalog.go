@@ -4,9 +4,9 @@ import (
 	"cmp"
 	"maps"
 	"slices"
-	"strings"
 
 	"dumbwaiter/api"
+	"dumbwaiter/layout"
 	"dumbwaiter/schema"
 )
 
@@ -86,28 +86,13 @@ func (c *catalog) addValues(e *entity) {
 	for _, s := range slots {
 		if s.Kind != 0 {
 			e.values = append(e.values, api.Cell{Name: s.Name, Kind: s.Kind})
-			e.initial = append(e.initial, c.initialOf(s))
+			e.initial = append(e.initial, layout.Field(c.model, s).Default)
 		}
 	}
 	formulas, _ := schema.Formulas(c.model, e.name)
 	for _, f := range formulas {
 		e.formulas[f.Name] = f.Expr
 	}
-}
-
-// initialOf returns the Default of a slot that is a value.
-func (c *catalog) initialOf(s api.Slot) api.Value {
-	fieldOf := func(l []api.Field, name string) api.Field {
-		return l[slices.IndexFunc(l, func(f api.Field) bool { return f.Name == name })]
-	}
-	place := slices.IndexFunc(c.model.Entities, func(x api.Entity) bool { return x.Name == s.Entity })
-	name, part, isPart := strings.Cut(s.Name, ".")
-	f := fieldOf(c.model.Entities[place].Fields, name)
-	if isPart {
-		place = slices.IndexFunc(c.model.Embeds, func(x api.Embed) bool { return x.Name == f.Of })
-		f = fieldOf(c.model.Embeds[place].Fields, part)
-	}
-	return f.Default
 }
 
 // addRelation adds a relation that an entity has itself.

@@ -4,10 +4,11 @@ import (
 	"slices"
 
 	"dumbwaiter/api"
+	"dumbwaiter/delta"
+	"dumbwaiter/layout"
 	"dumbwaiter/same"
 	"dumbwaiter/schema"
 	"dumbwaiter/store"
-	"dumbwaiter/value"
 )
 
 // historyName is the name of the table that a store can have beside those of the model: that of its migrations.
@@ -26,13 +27,13 @@ type storeTables struct {
 	*catalog
 	db             *store.Store
 	schema         api.Schema
-	layouts        map[string]*layout // of the entities that were read
+	layout         *layout.Layout
 	writer, reader *store.Txn
 }
 
 // newStoreTables returns the tables of a store with a schema, which they keep.
 func newStoreTables(c *catalog, db *store.Store, s api.Schema) *storeTables {
-	return &storeTables{catalog: c, db: db, schema: s, layouts: map[string]*layout{}}
+	return &storeTables{catalog: c, db: db, schema: s, layout: layout.Of(c.model, s)}
 }
 
 // begin begins a transaction, if the tables are still those of the model.
@@ -90,7 +91,15 @@ func (t *storeTables) askPair(p api.PairOf) bool {
 // pairsTable returns the name of the table of the pairs of a relation.
 func pairsTable(entity, relation string) string { return entity + "_" + relation }
 
-func (t *storeTables) world() (api.World, api.Errno) { return schema.World(t.model, t.data()) }
+func (t *storeTables) world() (api.World, api.Errno) {
+	d := t.data()
+	w, err := schema.World(t.model, d)
+	if err == api.ErrLarge {
+		// A store can have more than a world has: only what is written must be a world.
+		return t.layout.World(d), api.OK
+	}
+	return w, err
+}
 
 // data returns the rows of the tables of the model.
 func (t *storeTables) data() api.Data {
@@ -104,55 +113,9 @@ func (t *storeTables) write(w api.World) api.Errno {
 	if err != api.OK {
 		return err
 	}
-	before := t.data()
-	var l []api.RowChange
-	for i, table := range t.schema.Tables {
-		l = append(l, changes(table, before.Tables[i].Rows, next.Tables[i].Rows)...)
-	}
+	l := delta.Changes(t.schema, t.data(), next)
 	if err := t.writer.Batch(l); err != api.OK {
 		return err
 	}
 	return t.reader.Batch(l)
-}
-
-// changes returns the changes that make some rows of a table others. Both are sorted by their keys.
-func changes(t api.Table, before, after [][]api.Value) []api.RowChange {
-	var places []int
-	for _, name := range t.Key {
-		places = append(places, slices.IndexFunc(t.Columns, func(c api.Column) bool { return c.Name == name }))
-	}
-	keyOf := func(row []api.Value) []api.Value {
-		var key []api.Value
-		for _, place := range places {
-			key = append(key, row[place])
-		}
-		return key
-	}
-	var l []api.RowChange
-	for len(before) > 0 || len(after) > 0 {
-		c := 0
-		switch {
-		case len(before) == 0:
-			c = 1
-		case len(after) == 0:
-			c = -1
-		default:
-			c = value.CompareLists(keyOf(before[0]), keyOf(after[0]))
-		}
-		switch {
-		case c < 0:
-			l = append(l, api.RowChange{Kind: api.RowDelete, Table: t.Name, Key: keyOf(before[0])})
-		case c > 0:
-			l = append(l, api.RowChange{Kind: api.RowInsert, Table: t.Name, Row: after[0]})
-		case !slices.Equal(before[0], after[0]):
-			l = append(l, api.RowChange{Kind: api.RowUpdate, Table: t.Name, Key: keyOf(before[0]), Row: after[0]})
-		}
-		if c <= 0 {
-			before = before[1:]
-		}
-		if c >= 0 {
-			after = after[1:]
-		}
-	}
-	return l
 }
