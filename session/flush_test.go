@@ -348,6 +348,29 @@ func TestLargeWorld(t *testing.T) {
 	expect(t, u.object(h).ID, api.MaxObjects+1)
 }
 
+// P7.5, step 7: the tables can have more than a world, if only what is written is one.
+func TestTooMuch(t *testing.T) {
+	m := model(t, "entity a", "field x int null", "entity b", "field x int null")
+	db := storeOf(t, m, api.World{})
+	x := db.Begin()
+	for id := range 2600 {
+		must(t, x.Insert("a", row(integer(id+1), null)), x.Insert("b", row(integer(id+1), null)))
+	}
+	must(t, x.Commit())
+	u := use(t, m, db, api.LoadLazy)
+	f := all("a")
+	f.Limit = 200
+	for i, h := range u.find(f) {
+		must(t, u.Remove(h))
+		if i == 198 {
+			want(t, u.Flush(), api.ErrLarge)
+		}
+	}
+	must(t, u.Commit())
+	w := worldOf(t, m, db)
+	expect(t, []int{len(w.Objects), w.Objects[0].ID}, []int{api.MaxObjects, 201})
+}
+
 // P7.5: unique values can be exchanged, and pairs be added and removed, in one flush.
 func TestAtOnce(t *testing.T) {
 	m := zoo(t)
