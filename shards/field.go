@@ -11,11 +11,12 @@ import (
 
 // field says of a model how many objects of each entity there can be.
 type field struct {
-	kinds  map[string]*kind
-	plants []*plant
-	many   int // that are wanted of each
-	packs  map[string]*packed
-	tries  int
+	kinds     map[string]*kind
+	plants    []*plant
+	many      int // that are wanted of each
+	packs     map[string]packed
+	packTries int // how many tries are left for pack
+	tries     int // how many are left for counts
 }
 
 // packed is what pack has found when so many lists were wanted.
@@ -91,7 +92,7 @@ func (p *plant) valueOf(o *api.Object, x slot) api.Value {
 
 // fieldOf returns the field of a right model.
 func fieldOf(m api.Model, many int) *field {
-	f := &field{kinds: kindsOf(m), many: many, packs: map[string]*packed{}, tries: 20000}
+	f := &field{kinds: kindsOf(m), many: many, packs: map[string]packed{}, packTries: 500000, tries: 20000}
 	placeOf := func(name string) int {
 		return slices.IndexFunc(m.Entities, func(e api.Entity) bool { return e.Name == name })
 	}
@@ -152,99 +153,31 @@ func (f *field) pack(p *plant, tenant, want int, countOf func(g group) int) [][]
 		label += " " + strconv.Itoa(size)
 	}
 	known := f.packs[label]
-	if known == nil || len(known.rows) < want && known.want < want {
-		known = &packed{pack(sizes, p.tight, want), want}
+	if len(known.rows) < want && known.want < want {
+		rows, tries := pack(sizes, p.tight, want, want+min(5000, f.packTries))
+		f.packTries = max(f.packTries-tries, 0)
+		known.want = want
+		if len(rows) > len(known.rows) { // the search could be shorter than the one before
+			known.rows = rows
+		}
 		f.packs[label] = known
 	}
 	return known.rows[:min(want, len(known.rows))]
-}
-
-// counts returns how many objects of each entity are made: of each one as many as there can be with those of the entities ahead of it.
-func (f *field) counts() []int {
-	all := slices.Repeat([]int{f.many}, len(f.plants))
-	if _, ok := f.lacks(all); ok {
-		return all
-	}
-	best := make([]int, len(f.plants))
-	for i := range best {
-		for n := f.many; n > best[i]; n-- {
-			trial := slices.Clone(best)
-			clear(trial[i:])
-			trial[i] = n
-			if f.complete(trial, i+1) {
-				best = trial
-				break
-			}
-		}
-	}
-	return best
-}
-
-// complete adds objects of entities from a place on until nothing is lacking, and reports whether it could.
-func (f *field) complete(counts []int, from int) bool {
-	f.tries--
-	if f.tries < 0 {
-		return false
-	}
-	more, ok := f.lacks(counts)
-	if ok {
-		return true
-	}
-	for _, i := range more {
-		if i < from || counts[i] == f.many {
-			continue
-		}
-		counts[i]++
-		if f.complete(counts, from) {
-			return true
-		}
-		counts[i]--
-	}
-	return false
-}
-
-// lacks reports whether there can be so many objects of each entity; if not, it returns the entities of which more could help.
-func (f *field) lacks(counts []int) ([]int, bool) {
-	countOf := func(g group) int { return f.count(counts, g) }
-	for i, p := range f.plants {
-		for _, tenant := range p.tenants() {
-			n := countOf(group{i, tenant})
-			if n == 0 {
-				continue
-			}
-			for _, x := range p.own {
-				if x.Kind == 0 && !x.Null && x.size(tenant, countOf) == 0 {
-					return f.plants[x.target].family, false
-				}
-			}
-			if len(p.tight) > 0 && len(f.pack(p, tenant, n, countOf)) < n {
-				return f.sources(p), false
-			}
-		}
-	}
-	return nil, true
-}
-
-// sources returns the entities to which the tight lists of an entity refer.
-func (f *field) sources(p *plant) []int {
-	var l []int
-	for _, x := range p.own {
-		if x.isTight && x.Kind == 0 {
-			l = append(l, f.plants[x.target].family...)
-		}
-	}
-	return l
 }
 
 // count returns how many objects a group has: those of an entity are for its tenants in turn.
 func (f *field) count(counts []int, g group) int {
 	n := 0
 	for _, i := range f.plants[g.plant].family {
-		if g.tenant == 0 {
-			n += counts[i]
-		} else {
-			n += (counts[i] + 2 - g.tenant) / 2
-		}
+		n += share(counts[i], g.tenant)
 	}
 	return n
+}
+
+// share returns how many of some objects of an entity a tenant has.
+func share(count, tenant int) int {
+	if tenant == 0 {
+		return count
+	}
+	return (count + 2 - tenant) / 2
 }

@@ -18,12 +18,9 @@ type packing struct {
 	tries int
 }
 
-// maxTries bounds the search: where it is exceeded, fewer lists are found than there could be.
-const maxTries = 5000
-
-// pack returns some lists of numbers, as many as are wanted, or as there can be.
-func pack(sizes []int, lists [][]int, want int) [][]int {
-	p := &packing{sizes: sizes, lists: slices.Clone(lists), tries: maxTries}
+// pack returns some lists of numbers, as many as are wanted, or as there can be, and how often it has tried one. It does not try more often than tries says: where that is too seldom, there could be more lists.
+func pack(sizes []int, lists [][]int, want, tries int) ([][]int, int) {
+	p := &packing{sizes: sizes, lists: slices.Clone(lists), tries: tries}
 	slices.SortStableFunc(p.lists, func(a, b []int) int { return p.product(a) - p.product(b) })
 	p.keys = p.product(p.lists[0])
 	p.want = min(want, p.keys)
@@ -36,7 +33,7 @@ func pack(sizes []int, lists [][]int, want int) [][]int {
 		p.used = append(p.used, map[string]bool{})
 	}
 	p.choose(0)
-	return p.best
+	return p.best, tries - p.tries
 }
 
 // product returns how many different numbers there are at some places, or a great number.
