@@ -163,7 +163,7 @@ func TestStrangeArguments(t *testing.T) {
 			}
 		}
 	})
-	if len(errors) < 10 {
+	if len(errors) < 10 && !testing.Short() {
 		t.Error("too few errors", errors)
 	}
 }

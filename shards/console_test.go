@@ -367,7 +367,7 @@ func TestRandomConsole(t *testing.T) {
 			}
 		}
 	})
-	if replies["ok"] < 1000 || replies["error"] < 500 {
+	if !testing.Short() && (replies["ok"] < 1000 || replies["error"] < 500) {
 		t.Error(replies)
 	}
 }

@@ -77,6 +77,9 @@ func (p *packing) fill(key int, row []int, at int) bool {
 		if p.fill(key, row, at+1) {
 			return true
 		}
+		if p.tries <= 0 {
+			break
+		}
 	}
 	return false
 }

@@ -168,7 +168,7 @@ func TestStrangeArguments(t *testing.T) {
 			}
 		}
 	})
-	if len(errors) < 12 {
+	if len(errors) < 12 && !testing.Short() {
 		t.Error("too few errors", errors)
 	}
 }
