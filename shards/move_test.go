@@ -129,6 +129,55 @@ func TestCountOfSteps(t *testing.T) {
 	}
 }
 
+// P9.8: objects are in a copy by family and id; the order is that of the world.
+func TestFamilies(t *testing.T) {
+	m := model(t, "entity memo tenant", "field body text null", "entity note tenant", "field body text null", "entity letter of note", "field body2 text null", "entity todo tenant", "field body text null")
+	c := cluster(t, m, 2)
+	make := func(entity string, count int) {
+		l := notes(count)
+		for i := range l {
+			if l[i].Kind == api.ActMake {
+				l[i].Entity = entity
+			}
+		}
+		work(t, c, 1, l...)
+	}
+	change := func(entity string, from, to int) {
+		var l []api.Act
+		for id := from; id <= to; id++ {
+			l = append(l, api.Act{Kind: api.ActGet, Entity: entity, N: id}, api.Act{Kind: api.ActSet, A: id - from + 1, Name: "body", Value: text("x")})
+		}
+		work(t, c, 1, l...)
+	}
+	make("todo", 20)
+	make("letter", 20)
+	make("note", 20)
+	make("memo", 30)
+	must(t, c.Move(1, 1))
+	step(t, c, 1) // the memos, and the letters
+	expect(t, place(c, 1).State, api.TenantCopy)
+	change("letter", 1, 20)
+	change("note", 21, 40)
+	change("todo", 1, 20)
+	expect(t, step(t, c, 1), api.TenantFollow)
+	expect(t, stepTo(t, c, 1, api.TenantClosed), 2) // the letters have changed since
+	must(t, c.Abort(1), c.Move(1, 1))
+	stepTo(t, c, 1, api.TenantFollow)
+	make("todo", 20)
+	make("note", 30)
+	make("memo", 20)
+	step(t, c, 1) // the memos, and the notes
+	var l []api.Act
+	for i := range 20 {
+		l = append(l, api.Act{Kind: api.ActGet, Entity: "todo", N: 21 + i}, api.Act{Kind: api.ActRemove, A: i + 1})
+	}
+	work(t, c, 1, l...)
+	expect(t, stepTo(t, c, 1, api.TenantClosed), 1) // the others were not there yet
+	w := c.World()
+	stepTo(t, c, 1, api.TenantHome)
+	expect(t, c.World(), w)
+}
+
 // P9.8: a copy takes objects as they are when they are put into it, the first ones in the order of the world; what has changed since follows.
 func TestFollow(t *testing.T) {
 	c := cluster(t, library(t), 2)
