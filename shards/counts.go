@@ -24,35 +24,22 @@ func (f *field) lacks(counts []int) (lack, bool) {
 				}
 			}
 			if len(p.tight) > 0 && len(f.pack(p, tenant, n, countOf)) < n {
-				return lack{g, f.sources(p, tenant, n, countOf)}, true
+				return lack{g, f.sources(p)}, true
 			}
 		}
 	}
 	return lack{}, false
 }
 
-// sources returns the entities to which the tight lists of an entity refer that have fewer values than are wanted, or, if there is none, all of them.
-func (f *field) sources(p *plant, tenant, want int, countOf func(g group) int) []int {
-	var all, short []int
-	for _, places := range p.tight {
-		product := 1
-		var l []int
-		for _, place := range places {
-			x := p.own[place]
-			product = min(product*x.size(tenant, countOf), want)
-			if x.Kind == 0 {
-				l = append(l, f.plants[x.target].family...)
-			}
-		}
-		all = append(all, l...)
-		if product < want {
-			short = append(short, l...)
+// sources returns the entities to which the tight lists of an entity refer.
+func (f *field) sources(p *plant) []int {
+	var l []int
+	for _, x := range p.own {
+		if x.isTight && x.Kind == 0 {
+			l = append(l, f.plants[x.target].family...)
 		}
 	}
-	if len(short) > 0 {
-		return short
-	}
-	return all
+	return l
 }
 
 // counts returns how many objects of each entity are made: of each one as many as there can be with those of the entities ahead of it. The search is bounded: where entities hinder one another in many ways, there can be fewer.
@@ -82,14 +69,13 @@ func (f *field) complete(counts []int, from int) bool {
 		return true
 	}
 	clear(later)
-	tries := min(f.tries, 500)
-	f.tries -= tries
-	return f.raise(counts, from, &tries)
+	return f.raise(counts, from, map[string]bool{})
 }
 
-// lower takes objects of entities from a place on, the last ones first, until nothing is lacking, and reports whether it could.
+// lower takes objects of entities from a place on, the last ones first, until nothing is lacking, and reports whether it could. (From the first one on it always can.)
 func (f *field) lower(counts []int, from int) bool {
-	for {
+	for from == 0 || f.tries > 0 {
+		f.tries--
 		l, lacking := f.lacks(counts)
 		if !lacking {
 			return true
@@ -106,21 +92,30 @@ func (f *field) lower(counts []int, from int) bool {
 			return false
 		}
 	}
+	return false
 }
 
-// raise adds objects of entities from a place on until nothing is lacking, and reports whether it could.
-func (f *field) raise(counts []int, from int, tries *int) bool {
+// raise adds objects of entities from a place on until nothing is lacking, and reports whether it could. It does not try again the numbers with which it has failed.
+func (f *field) raise(counts []int, from int, failed map[string]bool) bool {
+	var label []byte
+	for _, n := range counts {
+		label = append(label, byte(n))
+	}
+	if failed[string(label)] || len(failed) >= 500 || f.tries <= 0 {
+		return false
+	}
 	l, lacking := f.lacks(counts)
 	if !lacking {
 		return true
 	}
-	*tries--
+	f.tries--
+	failed[string(label)] = true
 	for _, i := range l.more {
-		if i < from || counts[i] == f.many || *tries <= 0 {
+		if i < from || counts[i] == f.many {
 			continue
 		}
 		counts[i]++
-		if f.raise(counts, from, tries) {
+		if f.raise(counts, from, failed) {
 			return true
 		}
 		counts[i]--

@@ -92,7 +92,7 @@ func (p *plant) valueOf(o *api.Object, x slot) api.Value {
 
 // fieldOf returns the field of a right model.
 func fieldOf(m api.Model, many int) *field {
-	f := &field{kinds: kindsOf(m), many: many, packs: map[string]packed{}, packTries: 500000, tries: 20000}
+	f := &field{kinds: kindsOf(m), many: many, packs: map[string]packed{}, packTries: 500000, tries: 50000}
 	placeOf := func(name string) int {
 		return slices.IndexFunc(m.Entities, func(e api.Entity) bool { return e.Name == name })
 	}

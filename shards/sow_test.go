@@ -89,6 +89,7 @@ func TestSow(t *testing.T) {
 		{[]string{"entity w", "one b x need refuse", "unique b", "entity x", "field a text default 'p' texts 'p' 'q' 'r'", "unique a", "entity y of x"}, 3, []int{3, 3, 0}},
 		{[]string{"entity w", "one b x need refuse", "unique b", "entity x", "entity y of x"}, 3, []int{3, 3, 3}},
 		{[]string{"entity x tenant", "field a text default 'p' texts 'p' 'q' 'r'", "unique a", "entity y of x"}, 3, []int{3, 2}},
+		{[]string{"entity v", "field a bool", "unique a", "entity u of v", "entity z", "one b y need refuse", "entity x", "field a text default 'p' texts 'p' 'q' 'r'", "unique a", "entity y of x"}, 50, []int{2, 0, 50, 2, 1}},
 		// Several lists with the same slots.
 		{texts("a b c", "pqrst", pair), 50, []int{25}},
 		{texts("a b c", "pqrstuvw", pair), 50, []int{50}},
@@ -181,7 +182,7 @@ func (r *maker) tight() api.Model {
 			}
 			l = append(l, line)
 			own = append(own, nil)
-			for range r.Intn(3) {
+			for range r.Intn(4) {
 				slot++
 				s := "s" + strconv.Itoa(slot)
 				own[i] = append(own[i], s)
@@ -193,11 +194,13 @@ func (r *maker) tight() api.Model {
 				own[i] = append(own[i], s)
 				l = append(l, "one "+s+" "+pick(r, entities...)+pick(r, " need refuse", " need refuse", " refuse"))
 			}
-			for range r.Intn(3) {
+			for range r.Intn(4) {
 				if len(own[i]) > 0 {
-					list := []string{pick(r, own[i]...)}
-					if other := pick(r, own[i]...); other != list[0] {
-						list = append(list, other)
+					var list []string
+					for range 1 + r.Intn(3) {
+						if other := pick(r, own[i]...); !slices.Contains(list, other) {
+							list = append(list, other)
+						}
 					}
 					l = append(l, "unique "+strings.Join(list, " "))
 				}
