@@ -206,6 +206,13 @@ func (n *naive) work(t *testing.T, c *shards.Cluster, tenant int) {
 	must(t, err)
 	var got []api.Outcome
 	if tenant == 0 {
+		for shard := range 2 {
+			// What acts do on one shard they do on every one.
+			there, w, err := session.Direct(n.r.m, worldOf(t, n.r.m, c, shard), 0, now, nil, acts)
+			must(t, err)
+			expect(t, there, wanted)
+			expect(t, part(w, 0), part(after, 0))
+		}
 		got, err = c.Shared(key(t), now, acts)
 	} else {
 		got, err = c.Work(key(t), tenant, now, acts)
